@@ -1,0 +1,1 @@
+"""Orders as mixes of lines, and what they cost."""

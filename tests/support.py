@@ -1,0 +1,156 @@
+"""What the tests share: a test case that watches its calls, and slow but plain ways to orders and lines."""
+
+import copy
+import random
+import unittest
+from itertools import combinations, permutations
+
+from linemix.orders import Order
+from linemix.shapes import antichain, chain
+
+
+def as_lists(value):
+    """The value with each tuple in it turned into a list: an equal argument of another kind."""
+    if isinstance(value, (list, tuple)):
+        return [as_lists(entry) for entry in value]
+    return value
+
+
+def held_by(call, args, named):
+    """All that a call could change: its arguments, what orders among them hold, and the order whose method it is."""
+    owner = getattr(call, "__self__", None)
+    orders = [value for value in (owner, *args) if isinstance(value, Order)]
+    return args, named, [vars(order) for order in orders]
+
+
+class Case(unittest.TestCase):
+    """A test case whose calls are checked for what holds of every call of the package."""
+
+    def told(self, call, *args, **named):
+        """Call twice: the answers are equal, and neither call changes an argument."""
+        kept = copy.deepcopy(held_by(call, args, named))
+        answer = call(*args, **named)
+        self.assertEqual(held_by(call, args, named), kept, "an argument was changed")
+        again = call(*args, **named)
+        self.assertEqual(answer, again, "two equal calls, two answers")
+        self.assertIs(type(answer), type(again))
+        if isinstance(answer, list):
+            self.assertIsNot(answer, again, "a list must be a new one")
+        return answer
+
+    def gives(self, wanted, call, *args, **named):
+        """The call returns what is wanted, which is of the same kind in all depths."""
+        answer = self.told(call, *args, **named)
+        self.assertEqual(answer, wanted)
+        self.same_kind(answer, wanted)
+        return answer
+
+    def same_kind(self, answer, wanted):
+        self.assertIs(type(answer), type(wanted))
+        if isinstance(wanted, (list, tuple)):
+            for entry, model in zip(answer, wanted):
+                self.same_kind(entry, model)
+
+    def fails(self, wanted, call, *args, **named):
+        """The call raises an error of just this class with just these attributes, and changes no argument."""
+        kept = copy.deepcopy(held_by(call, args, named))
+        with self.assertRaises(type(wanted)) as caught:
+            call(*args, **named)
+        self.assertEqual(held_by(call, args, named), kept, "an argument was changed by a call that raises")
+        error = caught.exception
+        self.assertIs(type(error), type(wanted))
+        self.assertEqual(vars(error), vars(wanted))
+        for name, value in vars(wanted).items():
+            self.assertIs(type(vars(error)[name]), type(value))
+        return error
+
+
+def is_order_of(size, steps):
+    """Whether the steps are those of an order, all that follow included."""
+    told = set(steps)
+    if any((high, low) in told for low, high in told):
+        return False
+    return all((a, d) in told for a, b in told for c, d in told if b == c)
+
+
+def orders_of(size):
+    """All orders of that size, found by going through all sets of steps."""
+    if size not in _ORDERS:
+        couples = [(a, b) for a in range(size) for b in range(size) if a != b]
+        sets = [chosen for many in range(len(couples) // 2 + 1) for chosen in combinations(couples, many)]
+        _ORDERS[size] = [Order(size, chosen) for chosen in sets if is_order_of(size, chosen)]
+    return _ORDERS[size]
+
+
+_ORDERS = {}
+
+
+def small_orders():
+    """All orders of one to four places."""
+    return [order for size in range(1, 5) for order in orders_of(size)]
+
+
+def some_orders(many, least, most):
+    """The same orders on every run, of least to most places, thin and thick ones."""
+    dice = random.Random(f"{many} {least} {most}")
+    found = []
+    for _ in range(many):
+        size = dice.randint(least, most)
+        row = dice.sample(range(size), size)
+        chance = dice.choice([0.1, 0.3, 0.6])
+        steps = [(row[a], row[b]) for a in range(size) for b in range(a + 1, size) if dice.random() < chance]
+        found.append(Order(size, steps))
+    return found
+
+
+def steps_following(steps):
+    """All steps that follow from those told, by joining steps until none is new."""
+    told = set(steps)
+    while True:
+        more = {(a, d) for a, b in told for c, d in told if b == c} - told
+        if not more:
+            return tuple(sorted(told))
+        told |= more
+
+
+def keeps_steps(row, steps):
+    """Whether a row has the higher place of each step behind the lower one."""
+    return all(row.index(low) < row.index(high) for low, high in steps)
+
+
+def plain_lines(order):
+    """All lines, found by going through all rows."""
+    steps = order.steps_told()
+    return [row for row in permutations(range(order.size)) if keeps_steps(row, steps)]
+
+
+def plain_lower_sets(order):
+    """All lower sets, found by going through all sets of places."""
+    steps = order.steps_told()
+    sets = [chosen for many in range(order.size + 1) for chosen in combinations(range(order.size), many)]
+    return [chosen for chosen in sets if all(low in chosen for low, high in steps if high in chosen)]
+
+
+def beside_all(parts):
+    """The parts beside one another."""
+    made = parts[0]
+    for part in parts[1:]:
+        made = made + part
+    return made
+
+
+def many_lines():
+    """16 places with more than 10 ** 10 lines and 3888 lower sets."""
+    return beside_all([chain(2), chain(2), chain(2), chain(2), chain(2), chain(3), chain(3)])
+
+
+def thousand_lines():
+    """15 places with exactly 1000 lines."""
+    part = chain(2) + chain(3)
+    return part >> part >> part
+
+
+def five_thousand_lower_sets():
+    """15 places with exactly 5000 lower sets."""
+    inner = chain(1) >> (antichain(2) + chain(2))
+    return antichain(3) + (chain(1) >> (antichain(4) + chain(2) + inner))

@@ -1,0 +1,90 @@
+"""The rules of the language, as far as tests/language.py checks them; and that it finds what breaks them."""
+
+import tempfile
+import unittest
+from pathlib import Path
+
+from tests.language import faults_in
+
+PACKAGE = Path(__file__).parent.parent / "linemix"
+LISTED = ("errors", "numbers", "places", "orders", "shapes", "lines", "swaps", "ties", "texts")
+
+WRONG = (
+    ("L2", "import math\n"),
+    ("L2", "from random import random\n"),
+    ("L2", "from math import sqrt\n"),
+    ("L2", "from .numbers import is_int\n"),
+    ("L2", "def one():\n    return 1\n\n\nfrom math import gcd\n"),
+    ("L3", "for k in (1, 2):\n    pass\n"),
+    ("L3", "A = len((1, 2))\n"),
+    ("L4", "@classmethods\ndef one():\n    return 1\n"),
+    ("L4", "def one(rows=[]):\n    return rows\n"),
+    ("L6", "def one():\n    global A\n"),
+    ("L7", "def one():\n    return 0.5\n"),
+    ("L7", "def one():\n    return 1 / 2\n"),
+    ("L7", "def one(rows):\n    return sum(k for k in rows)\n"),
+    ("L8", "def one(rows):\n    return filter(None, rows)\n"),
+    ("L10", "def one():\n" + "    pass\n" * 40),
+    ("L10", "A = 1\n" + "# more\n" * 399),
+    ("L10", "A = 1  #" + "x" * 120 + "\n"),
+    ("L12", "def __one():\n    return 1\n"),
+    ("L12", "A = '_walled'\n"),
+    ("L14", "A = '\u00e9'\n"),
+    ("L14", "A = 1\t\n"),
+    ("L15", "A = 1\nA = 2\n"),
+    ("L15", "from math import gcd\n\n\ndef one(gcd):\n    return gcd\n"),
+    ("L15", "def one(hash):\n    return hash\n"),
+    ("L17", "def one(box):\n    return box.open\n"),
+    ("L17", "A = 'enum'\n"),
+    ("L19", "def one():\n    try:\n        return 1\n    except TypeError:\n        return 2\n"),
+    ("L19", "def one(error):\n    raise error\n"),
+    ("L20", "def one(a, b):\n    return a is b\n"),
+    ("L25", "def one(rows):\n    rows.sort()\n"),
+    ("L27", "def one(n):\n    return 2 ** n\n"),
+    ("L27", "A = 'a % b'\n"),
+    ("L28", "class Box:\n    def __len__(self):\n        return self.size\n"),
+)
+
+
+class LanguageTest(unittest.TestCase):
+    def test_the_package_keeps_the_rules(self):
+        self.assertEqual(faults_in(PACKAGE), [])
+
+    def test_each_listed_file_is_there(self):
+        names = [path.stem for path in PACKAGE.glob("*.py")]
+        for name in LISTED + ("__init__",):
+            self.assertIn(name, names)
+
+    def folder_with(self, place, files):
+        folder = Path(place) / "pack"
+        folder.mkdir()
+        for name, source in {"__init__.py": "", **files}.items():
+            (folder / name).write_text(source, encoding="utf-8")
+        return faults_in(folder)
+
+    def test_it_finds_what_breaks_a_rule(self):
+        for rule, source in WRONG:
+            with tempfile.TemporaryDirectory() as place:
+                faults = self.folder_with(place, {"one.py": source})
+            self.assertTrue(any(rule in fault for fault in faults), (rule, source, faults))
+
+    def test_it_finds_wrong_files_and_imports(self):
+        for rule, files in (
+            ("L1", {"notes.txt": ""}),
+            ("L14", {"Big.py": ""}),
+            ("L14", {"len.py": ""}),
+            ("L16", {"one.py": "from pack.two import b\n", "two.py": "A = 1\n"}),
+            ("L16", {"one.py": "from pack.two import B\n\nA = 1\n", "two.py": "from pack.one import A\n\nB = 1\n"}),
+        ):
+            with tempfile.TemporaryDirectory() as place:
+                faults = self.folder_with(place, files)
+            self.assertTrue(any(rule in fault for fault in faults), (rule, files, faults))
+
+    def test_it_lets_pass_what_is_right(self):
+        source = '"""One."""\n\nfrom math import gcd\n\nMOST = 3\n\n\ndef one(rows):\n    return gcd(max(rows), MOST)\n'
+        with tempfile.TemporaryDirectory() as place:
+            self.assertEqual(self.folder_with(place, {"one.py": source}), [])
+
+
+if __name__ == "__main__":
+    unittest.main()
