@@ -9,18 +9,23 @@ MOST_LINES = 1000
 MOST_LOWER_SETS = 5000
 
 
-def _free_places(needs, left):
+def free_places(needs, left):
     """Return the places of the mask left that need none of its places, ascending."""
     return [place for place in places_in(left) if not needs[place] & left]
 
 
-def _least_row(needs, left):
-    """Return the least row of the places of the mask left in which each one stands behind those that it needs."""
+def least_row(needs, left):
+    """Return the least row of the places of the mask left in which each one stands behind those that it needs.
+
+    The answer is None if there is no such row.
+    """
     row = ()
     while left:
-        place = _free_places(needs, left)[0]
-        row = row + (place,)
-        left = left ^ (1 << place)
+        free = free_places(needs, left)
+        if not free:
+            return None
+        row = row + (free[0],)
+        left = left ^ (1 << free[0])
     return row
 
 
@@ -29,15 +34,15 @@ def _line_after(order, line):
     left = 0
     for at in reversed(range(order.size)):
         left = left | (1 << line[at])
-        greater = [place for place in _free_places(order.belows, left) if place > line[at]]
+        greater = [place for place in free_places(order.belows, left) if place > line[at]]
         if greater:
-            return line[:at] + (greater[0],) + _least_row(order.belows, left ^ (1 << greater[0]))
+            return line[:at] + (greater[0],) + least_row(order.belows, left ^ (1 << greater[0]))
     return None
 
 
 def each_line(order):
     """Yield all lines, ascending, each made when it is asked for."""
-    line = _least_row(order.belows, full_mask(order.size))
+    line = least_row(order.belows, full_mask(order.size))
     while line is not None:
         yield line
         line = _line_after(order, line)
@@ -63,13 +68,13 @@ def _one_place_more(order, ways):
     full = full_mask(order.size)
     wider = {}
     for mask, many in ways.items():
-        for place in _free_places(order.belows, full ^ mask):
+        for place in free_places(order.belows, full ^ mask):
             grown = mask | (1 << place)
             wider[grown] = wider.get(grown, 0) + many
     return wider
 
 
-def _levels(order):
+def lower_levels(order):
     """Return for each size a dict from the masks of the lower sets to the numbers of beginnings of lines in them."""
     levels = [{0: 1}]
     met = 1
@@ -85,13 +90,13 @@ def _levels(order):
 
 def count_lines(order):
     """Return the number of lines."""
-    return _levels(order)[-1][full_mask(order.size)]
+    return lower_levels(order)[-1][full_mask(order.size)]
 
 
 def lower_sets(order):
     """Return the list of all lower sets, by size, those of one size ascending."""
     found = []
-    for level in _levels(order):
+    for level in lower_levels(order):
         found.extend(sorted([places_in(mask) for mask in level]))
     return found
 
@@ -109,6 +114,16 @@ def _whole_row(value, wrong, size):
     if len(value) < size:
         raise BadRow(len(value))
     return tuple(value)
+
+
+def row_told(value):
+    """Return the row of as many places as the list or tuple has entries."""
+    return row_of(value, len(value) if isinstance(value, (list, tuple)) else 0)
+
+
+def ranks_of(row):
+    """Return for each place where it stands in the row."""
+    return {place: at for at, place in enumerate(row)}
 
 
 def _early_entry(order, row):
@@ -154,4 +169,4 @@ def carried_on(order, places, line):
     needs = list(order.belows)
     for at, place in enumerate(told):
         needs[place] = needs[place] | mask_of(told[:at])
-    return _least_row(needs, full_mask(order.size))
+    return least_row(needs, full_mask(order.size))

@@ -11,9 +11,14 @@ def is_int(value):
     return isinstance(value, int) and not isinstance(value, bool)
 
 
+def is_at_least(value, least):
+    """Tell whether a value of any kind is an integer that is not below least."""
+    return is_int(value) and value >= least
+
+
 def check_number(value, name, least, most):
     """Return the value if it is an integer from least to most; most None means without upper end."""
-    if not is_int(value) or value < least:
+    if not is_at_least(value, least):
         raise BadNumber(name)
     if most is not None and value > most:
         raise BadNumber(name)

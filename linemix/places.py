@@ -42,3 +42,8 @@ def places_of(value, size):
     if wrong is not None:
         raise BadSet(wrong)
     return tuple(sorted(value))
+
+
+def couples_of(row):
+    """Return the list of all tuples of two entries of a row, the one that stands ahead first."""
+    return [(entry, other) for at, entry in enumerate(row) for other in row[at + 1:]]

@@ -1,7 +1,7 @@
 """Orders of some well-known shapes."""
 
 from linemix.errors import BadParts, TooMany
-from linemix.numbers import check_number, is_int
+from linemix.numbers import check_number, is_at_least
 from linemix.orders import MOST_PLACES, Order
 
 MOST_COUPLES = MOST_PLACES // 2
@@ -62,5 +62,5 @@ def _check_sizes(sizes):
     if not sizes:
         raise BadParts(0)
     for at, many in enumerate(sizes):
-        if not is_int(many) or many < 1:
+        if not is_at_least(many, 1):
             raise BadParts(at)

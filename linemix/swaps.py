@@ -1,26 +1,16 @@
 """From line to line by exchanges of neighbours."""
 
 from linemix.errors import OtherSize
-from linemix.lines import line_of, row_of
-
-
-def _row_told(value):
-    """Return the row of as many places as the value has entries."""
-    return row_of(value, len(value) if isinstance(value, (list, tuple)) else 0)
-
-
-def _ranks(row):
-    """Return for each place where it stands in the row."""
-    return {place: at for at, place in enumerate(row)}
+from linemix.lines import line_of, ranks_of, row_told
 
 
 def unlike_couples(one, other):
     """Return the number of couples in unlike order in two rows of one size."""
-    first = _row_told(one)
-    second = _row_told(other)
+    first = row_told(one)
+    second = row_told(other)
     if len(first) != len(second):
         raise OtherSize(len(second))
-    ranks = _ranks(second)
+    ranks = ranks_of(second)
     goals = [ranks[place] for place in first]
     return sum([len([goal for goal in goals[:at] if goal > mark]) for at, mark in enumerate(goals)])
 
@@ -37,7 +27,7 @@ def swap_path(order, one, other):
     """Return a list of lines from one to other, each made from the one ahead of it by exchanging two neighbours."""
     line = line_of(order, one)
     goal = line_of(order, other)
-    ranks = _ranks(goal)
+    ranks = ranks_of(goal)
     path = [line]
     while line != goal:
         line = _once_swapped(line, ranks)

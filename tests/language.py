@@ -6,6 +6,8 @@ import re
 import sys
 from pathlib import Path
 
+from tests.operators import faults_of
+
 LIBRARY = {"heapq": ("heappush", "heappop", "heapify", "heapreplace", "heappushpop"),
            "math": ("gcd", "lcm", "isqrt", "comb", "perm", "factorial")}
 ALLOWED = set(
@@ -188,6 +190,15 @@ class Reader:
         for default in [*node.args.defaults, *node.args.kw_defaults] if isinstance(node, ast.FunctionDef) else []:
             if isinstance(default, (ast.List, ast.Dict, ast.Set, ast.Call, ast.Lambda)):
                 self.fault(name, default, "L4 default value")
+        if isinstance(node, ast.ClassDef):
+            methods = {part.name: part for part in node.body if isinstance(part, ast.FunctionDef)}
+            if "__getitem__" in methods and "__iter__" not in methods:
+                self.fault(name, node, "L5 __getitem__ without __iter__")
+            if "__iter__" in methods:
+                body = [part for part in methods["__iter__"].body if not isinstance(part, ast.Expr)]
+                told = [ast.unparse(part) for part in body]
+                if len(told) != 1 or not re.fullmatch(r"return iter\(self(\.\w+){1,2}\)", told[0]):
+                    self.fault(name, node, "L5 __iter__")
         if node.name == "__len__":
             for part in ast.walk(node):
                 if isinstance(part, ast.Return) and not re.match(r"len\(|\d+$", ast.unparse(part.value)):
@@ -203,6 +214,9 @@ class Reader:
         if isinstance(node.func, ast.Attribute):
             if node.func.attr not in METHODS and node.func.attr not in self.own and node.func.attr != "__init__":
                 self.fault(name, node, f"L25 method {node.func.attr}")
+        if isinstance(node.func, ast.Name) and node.func.id == "reversed":
+            if not re.match(r"(list|tuple|sorted|range)\(|[\[(]", ast.unparse(node.args[0])):
+                self.fault(name, node, "L5 reversed")
         if isinstance(node.func, ast.Name) and node.func.id in TAKING_LISTS:
             if any(isinstance(value, ast.GeneratorExp) for value in node.args):
                 self.fault(name, node, "L7 a generator expression where a list is asked")
@@ -225,7 +239,7 @@ def faults_in(folder):
     """The list of what is wrong in the package folder."""
     reader = Reader(folder)
     reader.read_words()
-    return reader.faults
+    return reader.faults + faults_of(reader.trees)
 
 
 if __name__ == "__main__":

@@ -5,8 +5,22 @@ import random
 import unittest
 from itertools import combinations, permutations
 
+from linemix.counts import Counts
+from linemix.mixes import Mix
 from linemix.orders import Order
+from linemix.papers import Paper
 from linemix.shapes import antichain, chain
+from linemix.turning import Turner
+
+CLASSES = (Order, Counts, Mix, Paper, Turner)
+NO_LISTS = (None, 1, True, "0123", {0}, {0: 1}, range(4))
+ORDER = Order(4, [(0, 2), (1, 2), (1, 3)])
+# What is no pair of ORDER: of another form, with what is no place, of one place, or with x below y.
+NO_PAIRS = (
+    None, 1, True, "01", {0, 1}, {1: 0, 0: 1}, range(2), (), (0,), (1, 0, 3), [], (1, 1), [3, 3], (0, 4), (4, 0),
+    (-1, 0), (0, -1), (True, 0), (0, True), (False, 1), (1, False), (0, 1.0), ("1", 0), [None, 1], ((1,), 0), (1, [0]),
+    (10 ** 30, 0), (0, 2), [1, 2], (1, 3),
+)
 
 
 def as_lists(value):
@@ -17,10 +31,9 @@ def as_lists(value):
 
 
 def held_by(call, args, named):
-    """All that a call could change: its arguments, what orders among them hold, and the order whose method it is."""
-    owner = getattr(call, "__self__", None)
-    orders = [value for value in (owner, *args) if isinstance(value, Order)]
-    return args, named, [vars(order) for order in orders]
+    """All that a call could change: its arguments, what objects among them hold, and the object whose method it is."""
+    owner = getattr(call, "__self__", call)
+    return args, named, [vars(value) for value in (owner, *args) if isinstance(value, CLASSES)]
 
 
 class Case(unittest.TestCase):
@@ -129,6 +142,61 @@ def plain_lower_sets(order):
     steps = order.steps_told()
     sets = [chosen for many in range(order.size + 1) for chosen in combinations(range(order.size), many)]
     return [chosen for chosen in sets if all(low in chosen for low, high in steps if high in chosen)]
+
+
+def plain_pairs(order):
+    """The pairs of an order, by their definition."""
+    steps = order.steps_told()
+    return [(x, y) for x in range(order.size) for y in range(order.size) if x != y and (x, y) not in steps]
+
+
+def turned_by(row):
+    """The set of all pairs that a row turns."""
+    return {(row[b], row[a]) for a in range(len(row)) for b in range(a + 1, len(row))}
+
+
+def turned_sets(order):
+    """For each line the set of all pairs that it turns, open or sure."""
+    return [turned_by(line) for line in plain_lines(order)]
+
+
+def is_turned(lot, sets):
+    """Whether one of the sets has all pairs of the lot."""
+    return any(turned.issuperset(lot) for turned in sets)
+
+
+def lots_within(pairs, most):
+    """All lots of at most so many of the pairs."""
+    return [lot for many in range(most + 1) for lot in combinations(sorted(pairs), many)]
+
+
+def plain_least_rings(lot, sets):
+    """All least rings of a lot, by a look at all lines for each smaller lot."""
+    found = []
+    for part in lots_within(lot, len(lot)):
+        if not is_turned(part, sets) and not any(set(ring) <= set(part) for ring in found):
+            found.append(part)
+    return found
+
+
+def some_lots(order, many, most):
+    """The same lots of an order on every run, of at most so many pairs."""
+    pairs = plain_pairs(order)
+    dice = random.Random(f"{order.size} {pairs} {many} {most}")
+    return [tuple(sorted(dice.sample(pairs, dice.randint(0, min(most, len(pairs)))))) for _ in range(many)]
+
+
+def some_counts(order, many, most):
+    """The same counts on every run that fit the order, with numbers of at most most at some of its pairs."""
+    pairs = plain_pairs(order)
+    dice = random.Random(f"{order.size} {pairs} {many} {most}")
+    chosen = [dice.sample(pairs, dice.randint(0, len(pairs))) for _ in range(many)]
+    return [Counts([(x, y, dice.randint(0, most)) for x, y in lot]) for lot in chosen]
+
+
+def earned_by(line, counts):
+    """The sum of the counts of the pairs that a line turns."""
+    return sum(number for x, y, number in counts if line.index(x) > line.index(y))
 
 
 def beside_all(parts):

@@ -1,4 +1,4 @@
-"""The examples at the end of section 1 of the document, word for word."""
+"""The examples of the document for what has landed, word for word."""
 
 import unittest
 
@@ -18,28 +18,50 @@ EXAMPLES = """
 >>> from linemix.texts import order_from
 >>> order_from("order 3\\n0 < 1\\n1 < 0")
 raises BadText(3)
+
+>>> from linemix.shapes import antichain
+>>> from linemix.rings import least_rings, ring_around
+>>> order = antichain(3)
+>>> [ring_around(order, (0, 1, 2)), least_rings(order, [(0, 1), (1, 2), (2, 0), (2, 1)])]
+[((1, 0), (2, 1), (0, 2)), [((1, 2), (2, 1)), ((0, 1), (1, 2), (2, 0))]]
+
+>>> from linemix.shapes import antichain
+>>> from linemix.lots import greatest_lots
+>>> greatest_lots(antichain(3), [(0, 1), (1, 2), (2, 0), (2, 1)])
+[((0, 1), (1, 2)), ((0, 1), (2, 0), (2, 1)), ((1, 2), (2, 0))]
+
+>>> from linemix.orders import Order
+>>> from linemix.chains import heaviest
+>>> heaviest(Order(4, [(0, 2), (1, 2), (1, 3)]), [1, 2, 3, 4])
+(7, (2, 3))
+
+>>> from linemix.counts import Counts, check_fit
+>>> from linemix.shapes import chain
+>>> check_fit(chain(2), Counts([(1, 0, 2), (0, 1, 3)]))
+raises Unfit(x=0, y=1)
 """
 
 
 def shown(source, names):
-    """What a statement shows: the value of its expression, or the error that it raises."""
+    """What a statement may show: the value of its expression, or the error that it raises, told in either way."""
     try:
-        return repr(eval(source, names))
+        return [repr(eval(source, names))]
     except ValueError as error:
-        told = ", ".join(repr(value) for value in vars(error).values())
-        return f"raises {type(error).__name__}({told})"
+        plain = ", ".join(repr(value) for value in vars(error).values())
+        named = ", ".join(f"{name}={value!r}" for name, value in vars(error).items())
+        return [f"raises {type(error).__name__}({told})" for told in (plain, named)]
 
 
 class ExamplesTest(unittest.TestCase):
     def test_examples(self):
         examples = EXAMPLES.strip().split("\n\n")
-        self.assertEqual(len(examples), 3)
+        self.assertEqual(len(examples), 7)
         for example in examples:
             *statements, wanted = example.split("\n")
             *first, last = [line.removeprefix(">>> ") for line in statements]
             names = {}
             exec("\n".join(first), names)
-            self.assertEqual(shown(last, names), wanted)
+            self.assertIn(wanted, shown(last, names))
 
 
 if __name__ == "__main__":

@@ -21,7 +21,49 @@ FUNCTIONS = {
     "swaps": ("unlike_couples(one, other)", "swap_path(order, one, other)"),
     "ties": ("tied(order, *steps)", "single_ties(order)", "tie_path(order, other)", "untied(order, u, v)"),
     "texts": ("order_text(order)", "order_from(text)"),
+    "pairs": (
+        "pair_in(order, value)", "lot_of(order, value)", "all_pairs(order)", "open_pairs(order)", "sure_pairs(order)",
+        "against(order, pair, other)", "pairs_against(order, pair)", "is_quiet(order, lot)",
+    ),
+    "leading": (
+        "leads(order, pair, other)", "led_by(order, pair)", "tight_pairs(order)", "is_tight(order, pair)",
+        "tight_for(order, pair)",
+    ),
+    "turning": ("turns(line, pair)", "line_for(order, lot)"),
+    "rings": (
+        "is_ring(order, lot, row)", "ring_in(order, lot)", "least_rings(order, lot)", "is_turnable(order, lot)",
+        "ring_around(order, chosen)",
+    ),
+    "lots": (
+        "greatest_lots(order, lot)", "least_meetings(order, lot)", "most_at_once(order, lot)",
+        "standard_from(order, lot)", "most_against(order)",
+    ),
+    "chains": (
+        "heaviest(order, loads)", "loaded_cover(order, loads)", "width(order)", "widest(order)", "chain_cover(order)",
+        "is_a_chain(order, places)", "is_an_antichain(order, places)", "low_line(order, chosen)",
+        "high_line(order, chosen)", "both_line(order, chosen, others)",
+    ),
+    "counts": ("check_fit(order, counts)", "kept_on(order, counts)"),
+    "worths": ("worth(order, weights)", "richest(order, weights)"),
 }
+
+CLASSES = {
+    "turning.Turner": ("__init__(self, order)", "__call__(self, line)"),
+    "counts.Counts": (
+        "__init__(self, rows=())", "__iter__(self)", "__len__(self)", "__getitem__(self, at)", "__contains__(self, x)",
+        "__add__(self, other)", "__mul__(self, other)", "__eq__(self, other)", "with_count(self, x, y, number)",
+        "product_sum(self, other)", "total_count(self)", "greatest_count(self)", "covers_all(self, other)",
+    ),
+    "mixes.Mix": (
+        "__init__(self, bottom, rows)", "__iter__(self)", "__len__(self)", "share(self, x, y)", "pays(self, counts)",
+        "holds_in(self, order)", "number_of(self, line)", "__add__(self, other)", "__eq__(self, other)",
+    ),
+    "papers.Paper": (
+        "__init__(self, bottom, counts)", "__iter__(self)", "__eq__(self, other)", "value_at(self, tolls)",
+        "holds_in_order(self, order)",
+    ),
+}
+MADE = {"ones": "(order)", "at": "(lot, *, number=1)"}
 
 METHODS = (
     "steps_told(self)", "next_steps(self)", "is_below(self, x, y)", "is_under(self, x, y)", "are_open(self, x, y)",
@@ -62,6 +104,31 @@ class InterfaceTest(unittest.TestCase):
             self.assertEqual(f"{method.__name__}{inspect.signature(method)}", told)
         self.assertIs(type(vars(order)["empty"]), classmethod)
         self.assertEqual(str(inspect.signature(order.empty)), "(size)")
+
+    def test_classes(self):
+        for path, methods in CLASSES.items():
+            name, _, told_class = path.partition(".")
+            made = vars(importlib.import_module(f"linemix.{name}"))[told_class]
+            self.assertEqual(made.__module__, f"linemix.{name}")
+            for told in methods:
+                method = vars(made)[told.partition("(")[0]]
+                self.assertEqual(f"{method.__name__}{inspect.signature(method)}", told)
+
+    def test_properties_and_class_methods(self):
+        self.assertIs(type(vars(importlib.import_module("linemix.mixes").Mix)["total"]), property)
+        counts = importlib.import_module("linemix.counts").Counts
+        for name, told in MADE.items():
+            self.assertIs(type(vars(counts)[name]), classmethod)
+            self.assertEqual(str(inspect.signature(vars(counts)[name].__get__(None, counts))), told)
+
+    def test_attributes_are_set_on_each_object(self):
+        turning, mixes, papers, shapes, counts = [
+            importlib.import_module(f"linemix.{name}") for name in ("turning", "mixes", "papers", "shapes", "counts")
+        ]
+        self.assertIn("order", vars(turning.Turner(shapes.chain(2))))
+        self.assertIn("bottom", vars(mixes.Mix(1, ())))
+        paper = papers.Paper(1, counts.Counts())
+        self.assertTrue("bottom" in vars(paper) and "counts" in vars(paper))
 
     def test_errors(self):
         errors = importlib.import_module("linemix.errors")

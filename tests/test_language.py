@@ -7,7 +7,10 @@ from pathlib import Path
 from tests.language import faults_in
 
 PACKAGE = Path(__file__).parent.parent / "linemix"
-LISTED = ("errors", "numbers", "places", "orders", "shapes", "lines", "swaps", "ties", "texts")
+LISTED = (
+    "errors", "numbers", "places", "orders", "shapes", "lines", "swaps", "ties", "texts", "pairs", "leading", "turning",
+    "rings", "lots", "chains", "counts", "mixes", "papers", "worths",
+)
 
 WRONG = (
     ("L2", "import math\n"),
@@ -19,6 +22,18 @@ WRONG = (
     ("L3", "A = len((1, 2))\n"),
     ("L4", "@classmethods\ndef one():\n    return 1\n"),
     ("L4", "def one(rows=[]):\n    return rows\n"),
+    ("L5", "class Box:\n    def __getitem__(self, at):\n        return at\n"),
+    ("L5", "class Box:\n    def __iter__(self):\n        return iter([1])\n"),
+    ("L5", "class Box:\n    def __add__(self, other):\n        self.many = 1\n        return self\n"),
+    ("L5", "class Box:\n    def __eq__(self, other):\n        self.rows[0] = 1\n        return True\n"),
+    ("L5", "class Box:\n    @property\n    def many(self):\n        self.rows.append(1)\n        return 1\n"),
+    ("L5", "class Box:\n    def __add__(self, other):\n        return grown([], other)\n\n\n"
+           "def grown(rows, more):\n    rows.append(more)\n    return rows\n"),
+    ("L5", "class Box:\n    def __mul__(self, other):\n        return self.told(len)\n\n"
+           "    def told(self, call):\n        return call(self)\n"),
+    ("L5", "class Box:\n    def __contains__(self, x):\n        seen = {a: 1 for a in self.rows}\n"
+           "        seen[x] = 1\n        return x in seen\n"),
+    ("L5", "def one(rows):\n    return reversed(rows)\n"),
     ("L6", "def one():\n    global A\n"),
     ("L7", "def one():\n    return 0.5\n"),
     ("L7", "def one():\n    return 1 / 2\n"),
@@ -82,8 +97,15 @@ class LanguageTest(unittest.TestCase):
 
     def test_it_lets_pass_what_is_right(self):
         source = '"""One."""\n\nfrom math import gcd\n\nMOST = 3\n\n\ndef one(rows):\n    return gcd(max(rows), MOST)\n'
-        with tempfile.TemporaryDirectory() as place:
-            self.assertEqual(self.folder_with(place, {"one.py": source}), [])
+        box = (
+            '"""One."""\n\n\nclass Box:\n    def __init__(self, rows):\n        self.rows = rows\n\n'
+            "    def __iter__(self):\n        return iter(self.rows)\n\n"
+            "    def __add__(self, other):\n        both = list(self.rows)\n        both.append(other)\n"
+            "        both[0] = 2\n        return Box(both)\n"
+        )
+        for right in (source, box):
+            with tempfile.TemporaryDirectory() as place:
+                self.assertEqual(self.folder_with(place, {"one.py": right}), [])
 
 
 if __name__ == "__main__":

@@ -7,7 +7,8 @@ from math import factorial
 
 from linemix.errors import BadLine, BadNumber, BadRow, BadSet, TooMany
 from linemix.lines import (
-    carried_on, count_lines, cut_down, each_line, is_line, line_of, lines_of, lower_sets, row_of,
+    carried_on, count_lines, cut_down, each_line, is_line, least_row, line_of, lines_of, lower_levels, lower_sets,
+    ranks_of, row_of, row_told,
 )
 from linemix.orders import Order
 from linemix.shapes import antichain, bent, chain, crown, stacked, standard
@@ -156,6 +157,33 @@ class RowTest(Case):
         self.fails(BadRow(4), row_of, [3, 0, 1, 2, 2], 4)
         self.fails(BadRow(0), row_of, [0], 0)
         self.fails(BadRow(2), row_of, [1, 0], 10 ** 30)
+
+    def test_row_told(self):
+        for row in ((), (0,), (2, 0, 1), tuple(range(39, -1, -1))):
+            self.gives(row, row_told, row)
+            self.gives(row, row_told, list(row))
+        for value in NO_LISTS:
+            self.fails(BadRow(-1), row_told, value)
+        for wrong in NO_PLACES:
+            self.fails(BadRow(2), row_told, (3, 0, wrong, 1))
+        self.fails(BadRow(1), row_told, (1, 1))
+
+    def test_ranks_of(self):
+        self.gives({2: 0, 0: 1, 1: 2}, ranks_of, (2, 0, 1))
+        self.gives({}, ranks_of, ())
+
+    def test_least_row(self):
+        # Places that need one another can't stand in a row.
+        self.gives((1, 0, 2), least_row, [2, 0, 1], 7)
+        self.gives(None, least_row, [2, 1, 0], 7)
+        self.gives((2,), least_row, [2, 1, 0], 4)
+        self.gives((), least_row, [1], 0)
+
+    def test_lower_levels(self):
+        for order in small_orders():
+            levels = self.told(lower_levels, order)
+            self.assertEqual(sum(len(level) for level in levels), len(lower_sets(order)))
+            self.assertEqual(len(levels), order.size + 1)
 
     def test_later_changes_have_no_effect(self):
         value = [1, 0]

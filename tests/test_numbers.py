@@ -4,7 +4,7 @@ import unittest
 from fractions import Fraction
 
 from linemix.errors import BadNumber
-from linemix.numbers import add_up, check_number, greater_of, is_at_most, is_int, lowest, scaled
+from linemix.numbers import add_up, check_number, greater_of, is_at_least, is_at_most, is_int, lowest, scaled
 from linemix.shapes import chain
 from tests.support import Case
 
@@ -29,6 +29,13 @@ class NumbersTest(Case):
             self.gives(True, is_int, value)
         for value in NO_INTEGERS:
             self.gives(False, is_int, value)
+
+    def test_is_at_least(self):
+        for value in (3, 4, 10 ** 30):
+            self.gives(True, is_at_least, value, 3)
+        for value in NO_INTEGERS + (2, 0, -10 ** 30):
+            self.gives(False, is_at_least, value, 3)
+        self.gives(False, is_at_least, True, 0)
 
     def test_check_number_returns_what_is_in_range(self):
         for value in (3, 4, 5):

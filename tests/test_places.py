@@ -4,7 +4,7 @@ import unittest
 from itertools import permutations
 
 from linemix.errors import BadPlace, BadSet
-from linemix.places import all_places, place_of, places_of
+from linemix.places import all_places, couples_of, place_of, places_of
 from tests.support import Case
 
 
@@ -41,6 +41,12 @@ class PlacesTest(Case):
         self.fails(BadSet(1), places_of, (0, 0), 4)
         self.fails(BadSet(2), places_of, (3, 1, 3, 9), 4)
         self.fails(BadSet(0), places_of, (0,), 0)
+
+    def test_couples_of(self):
+        self.gives([], couples_of, ())
+        self.gives([], couples_of, (4,))
+        self.gives([(0, 2), (0, 1), (2, 1)], couples_of, (0, 2, 1))
+        self.gives([((1, 0), (2, 0))], couples_of, [(1, 0), (2, 0)])
 
     def test_later_changes_have_no_effect(self):
         value = [2, 0]

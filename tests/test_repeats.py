@@ -2,13 +2,20 @@
 
 import unittest
 
-from linemix import lines, numbers, orders, places, shapes, swaps, texts, ties
+from linemix import (
+    chains, counts, leading, lines, lots, mixes, numbers, orders, pairs, papers, places, rings, shapes, swaps, texts,
+    ties, turning, worths,
+)
 from linemix.orders import Order
-from linemix.shapes import antichain, bent, chain, crown
-from tests.support import Case, as_lists, five_thousand_lower_sets, many_lines
+from linemix.shapes import antichain, bent, chain, crown, standard
+from tests.support import ORDER, Case, as_lists, five_thousand_lower_sets, many_lines
 
-ORDER = Order(4, [(0, 2), (1, 2), (1, 3)])
 ROW = tuple(range(15, -1, -1))
+LOT = ((0, 1), (1, 0), (2, 0), (0, 3), (3, 2))
+RING = ((1, 0), (2, 1), (0, 2))
+LOADS = (5, 0, 3, 1, 9, 9, 2, 4, 4, 4, 7, 1, 0, 10 ** 30, 2, 3)
+WEIGHTS = counts.Counts.ones(many_lines()) + counts.Counts([(0, 15, 3), (13, 1, 2)])
+MIX = mixes.Mix(6, (((1, 0, 2), 3), ((0, 1, 2), 2)))
 
 CALLS = (
     (numbers.lowest, (4, -6)),
@@ -34,6 +41,57 @@ CALLS = (
     (ties.untied, (chain(5), 2, 3)),
     (texts.order_text, (bent(),)),
     (texts.order_from, ("order 3\n1 < 2\n",)),
+    (pairs.pair_in, (ORDER, (1, 0))),
+    (pairs.lot_of, (ORDER, LOT)),
+    (pairs.all_pairs, (ORDER,)),
+    (pairs.open_pairs, (ORDER,)),
+    (pairs.sure_pairs, (ORDER,)),
+    (pairs.against, (ORDER, (1, 0), (0, 1))),
+    (pairs.pairs_against, (ORDER, (0, 3))),
+    (pairs.is_quiet, (ORDER, LOT)),
+    (leading.leads, (ORDER, (1, 0), (3, 0))),
+    (leading.led_by, (ORDER, (1, 0))),
+    (leading.tight_pairs, (ORDER,)),
+    (leading.is_tight, (ORDER, (1, 0))),
+    (leading.tight_for, (ORDER, (3, 0))),
+    (turning.turns, (ROW, (3, 7))),
+    (turning.Turner(ORDER), ((1, 3, 0, 2),)),
+    (turning.line_for, (ORDER, LOT[1:3])),
+    (turning.line_for, (many_lines(), ((0, 15), (13, 2)))),
+    (rings.is_ring, (antichain(3), RING, RING)),
+    (rings.ring_in, (ORDER, LOT)),
+    (rings.ring_in, (many_lines(), pairs.all_pairs(many_lines()))),
+    (rings.least_rings, (ORDER, LOT)),
+    (rings.is_turnable, (ORDER, LOT)),
+    (rings.ring_around, (antichain(16), ROW)),
+    (lots.greatest_lots, (ORDER, LOT)),
+    (lots.least_meetings, (ORDER, LOT)),
+    (lots.most_at_once, (ORDER, LOT)),
+    (lots.standard_from, (standard(3), ((2, 5), (0, 3), (1, 4)))),
+    (lots.most_against, (standard(6),)),
+    (chains.heaviest, (many_lines(), LOADS)),
+    (chains.loaded_cover, (many_lines(), LOADS)),
+    (chains.width, (many_lines(),)),
+    (chains.widest, (crown(8, reach=3),)),
+    (chains.chain_cover, (crown(8, reach=3),)),
+    (chains.is_a_chain, (ORDER, (2, 0))),
+    (chains.is_an_antichain, (ORDER, (3, 2))),
+    (chains.low_line, (many_lines(), (1, 0))),
+    (chains.high_line, (many_lines(), (1, 0))),
+    (chains.both_line, (many_lines(), (1, 0), (15, 13))),
+    (counts.Counts, (((1, 0, 2), (0, 1, 3)),)),
+    (counts.Counts.at, (LOT,)),
+    (counts.Counts.ones, (ORDER,)),
+    (WEIGHTS.with_count, (0, 1, 7)),
+    (counts.kept_on, (chain(16), WEIGHTS)),
+    (mixes.Mix, (6, (((1, 0, 2), 3), ((0, 1, 2), 2)))),
+    (MIX.share, (1, 0)),
+    (MIX.number_of, ((1, 0, 2),)),
+    (papers.Paper, (3, WEIGHTS)),
+    (papers.Paper(3, WEIGHTS).value_at, (WEIGHTS,)),
+    (papers.Paper(3, WEIGHTS).holds_in_order, (many_lines(),)),
+    (worths.worth, (many_lines(), WEIGHTS)),
+    (worths.richest, (many_lines(), WEIGHTS)),
 )
 
 
@@ -43,6 +101,18 @@ class RepeatsTest(Case):
             answer = self.told(call, *args)
             self.assertEqual(self.told(call, *as_lists(args)), answer)
             self.assertEqual(call(*args), answer)
+
+    def test_equal_counts_and_orders_made_otherwise(self):
+        order = many_lines()
+        same = Order(16, order.next_steps()[::-1])
+        weights = counts.Counts(list(WEIGHTS)[::-1] + [(3, 3, 0)])
+        self.assertEqual(worths.richest(same, weights), worths.richest(order, WEIGHTS))
+        self.assertEqual(chains.heaviest(same, LOADS), chains.heaviest(order, LOADS))
+        self.assertEqual(chains.loaded_cover(same, LOADS), chains.loaded_cover(order, LOADS))
+        lot = pairs.all_pairs(order)
+        self.assertEqual(rings.ring_in(same, lot[::-1]), rings.ring_in(order, lot))
+        self.assertEqual(turning.line_for(same, [(13, 2), (0, 15)]), turning.line_for(order, [(0, 15), (13, 2)]))
+        self.assertEqual(chains.low_line(same, (0, 1)), chains.low_line(order, (1, 0)))
 
     def test_equal_orders_made_otherwise(self):
         for order in (ORDER, bent(), crown(4, reach=1), many_lines()):

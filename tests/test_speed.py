@@ -1,0 +1,84 @@
+"""Calls must stay quick: some thousand of them on small orders, and single ones at the bounds of [0.6].
+
+The limits are far above what the calls take, so that a slow machine passes; a search through all lines would not.
+"""
+
+import random
+import time
+import unittest
+
+from linemix.chains import chain_cover, heaviest, high_line, loaded_cover, low_line, width
+from linemix.counts import Counts
+from linemix.leading import tight_for, tight_pairs
+from linemix.lots import greatest_lots, least_meetings, most_against, most_at_once
+from linemix.mixes import Mix
+from linemix.orders import Order
+from linemix.pairs import all_pairs, is_quiet, open_pairs, sure_pairs
+from linemix.papers import Paper
+from linemix.rings import is_turnable, least_rings, ring_in
+from linemix.shapes import antichain, bent, chain, standard
+from linemix.turning import Turner, line_for
+from linemix.worths import richest, worth
+from tests.support import five_thousand_lower_sets, many_lines, some_counts, some_lots, some_orders
+
+LIMIT = 30
+BIG = 10 ** 30
+
+
+class SpeedTest(unittest.TestCase):
+    def quick(self, calls):
+        begin = time.monotonic()
+        for call, *args in calls:
+            call(*args)
+        self.assertLess(time.monotonic() - begin, LIMIT)
+
+    def test_thousands_of_calls_with_lots(self):
+        calls = []
+        for order in some_orders(40, 5, 6) + [antichain(6), bent(), standard(3)]:
+            for lot in some_lots(order, 12, 12):
+                calls += [(call, order, lot) for call in (
+                    is_quiet, line_for, ring_in, is_turnable, least_rings, greatest_lots, least_meetings, most_at_once)]
+        self.assertGreater(len(calls), 4000)
+        self.quick(calls)
+
+    def test_thousands_of_calls_with_orders_and_counts(self):
+        calls = []
+        for order in some_orders(60, 5, 6) + [antichain(6), bent(), standard(3)]:
+            loads = [place * place + 1 for place in range(order.size)]
+            calls += [(call, order) for call in (all_pairs, open_pairs, sure_pairs, tight_pairs, width, chain_cover)]
+            calls += [(call, order, [0]) for call in (low_line, high_line)]
+            calls += [(heaviest, order, loads), (loaded_cover, order, loads)]
+            calls += [(tight_for, order, pair) for pair in open_pairs(order)]
+            calls += [(call, order, counts) for counts in some_counts(order, 10, BIG) for call in (worth, richest)]
+        self.assertGreater(len(calls), 2000)
+        self.quick(calls)
+
+    def test_sixteen_places(self):
+        loads = [random.Random(place).randint(0, BIG) for place in range(16)]
+        for order in (antichain(16), chain(16), many_lines(), standard(8), antichain(8) >> antichain(8)):
+            pairs = all_pairs(order)
+            self.quick([(is_quiet, order, pairs), (ring_in, order, pairs), (line_for, order, pairs[::3])])
+            self.quick([(heaviest, order, loads), (loaded_cover, order, loads), (Turner(order), tuple(range(16)))])
+
+    def test_bounds_of_listing(self):
+        for size in (4, 5, 7, 12, 16):
+            pairs = all_pairs(antichain(size))
+            for at in range(30):
+                lot = random.Random(at).sample(pairs, 12)
+                self.quick([(call, antichain(size), lot) for call in (least_rings, greatest_lots, most_at_once)])
+        self.quick([(most_against, standard(8)), (most_against, antichain(4))])
+
+    def test_five_thousand_lower_sets(self):
+        order = five_thousand_lower_sets()
+        counts = Counts.ones(order) * BIG
+        self.quick([(worth, order, counts), (richest, order, counts), (Paper(1, counts).holds_in_order, order)])
+
+    def test_mixes_of_many_lines(self):
+        order = Order(16)
+        rows = [(tuple(random.Random(at).sample(range(16), 16)), at + 1) for at in range(1000)]
+        mix = Mix(BIG, rows)
+        self.quick([(Mix, BIG, rows), (mix.pays, Counts.ones(order)), (mix.holds_in, order), (mix.__add__, mix)])
+
+
+if __name__ == "__main__":
+    unittest.main()
