@@ -1,8 +1,8 @@
 """Chains and antichains: heaviest antichains, covers by chains, and lines that put chains low or high."""
 
-from linemix.errors import AreOpen, BadRates
+from linemix.errors import AreOpen
 from linemix.masks import places_in
-from linemix.numbers import is_at_least
+from linemix.numbers import rates_told
 from linemix.pairs import reaches
 from linemix.places import couples_of, places_of
 from linemix.turning import line_turning
@@ -10,18 +10,6 @@ from linemix.turning import line_turning
 # Here each place has as many units as its load. A unit can be joined to at most one unit of a place above its own, and
 # to at most one of a place below it; units joined one behind the other make the chains of a cover. So the more units
 # are joined, the less the numbers of the chains sum to. joined[low][high] is a number of joins.
-
-
-def _loads_of(order, value):
-    """Return the loads that a list or tuple of one integer at least 0 for each place tells."""
-    if not isinstance(value, (list, tuple)):
-        raise BadRates(-1)
-    for at, load in enumerate(value):
-        if not is_at_least(load, 0):
-            raise BadRates(at)
-    if len(value) != order.size:
-        raise BadRates(len(value))
-    return tuple(value)
 
 
 def _joined_below(joined, place):
@@ -91,7 +79,7 @@ def _most_joined(order, loads):
 
 def heaviest(order, loads):
     """Return the greatest sum of loads over an antichain, and an antichain with this sum."""
-    told = _loads_of(order, loads)
+    told = rates_told(loads, order.size, 0)
     _, places = _most_joined(order, told)
     return sum([told[place] for place in places]), places
 
@@ -120,7 +108,7 @@ def _taken_chain(joined, place, most):
 
 def loaded_cover(order, loads):
     """Return a list of tuples (chain, number) that gives each place its load, with the least sum of numbers."""
-    told = _loads_of(order, loads)
+    told = rates_told(loads, order.size, 0)
     joined, _ = _most_joined(order, told)
     starts = [load - _joined_below(joined, place) for place, load in enumerate(told)]
     cover = []

@@ -101,19 +101,19 @@ def lower_sets(order):
     return found
 
 
-def row_of(value, size):
-    """Return the row of size places that a list or tuple tells."""
-    wrong = wrong_entry(value, lambda entry: is_place(entry, size))
-    return _whole_row(value, wrong, size)
-
-
-def _whole_row(value, wrong, size):
+def checked_row(value, wrong, size):
     """Return the row of size entries that the value tells, given the number of its first wrong entry, if any."""
     if wrong is not None:
         raise BadRow(wrong)
     if len(value) < size:
         raise BadRow(len(value))
     return tuple(value)
+
+
+def row_of(value, size):
+    """Return the row of size places that a list or tuple tells."""
+    wrong = wrong_entry(value, lambda entry: is_place(entry, size))
+    return checked_row(value, wrong, size)
 
 
 def row_told(value):
@@ -164,7 +164,7 @@ def carried_on(order, places, line):
     """Return a line of the order that, cut down to the set of places, is the line told."""
     chosen = places_of(places, order.size)
     wrong = wrong_entry(line, lambda entry: entry in chosen)
-    told = _checked_line(order, _whole_row(line, wrong, len(chosen)))
+    told = _checked_line(order, checked_row(line, wrong, len(chosen)))
     # No ring arises: a step between places of the set agrees with the line told.
     needs = list(order.belows)
     for at, place in enumerate(told):

@@ -2,7 +2,7 @@
 
 from math import gcd
 
-from linemix.errors import BadNumber
+from linemix.errors import BadNumber, BadRates
 
 
 def is_int(value):
@@ -23,6 +23,18 @@ def check_number(value, name, least, most):
     if most is not None and value > most:
         raise BadNumber(name)
     return value
+
+
+def rates_told(value, many, least):
+    """Return the tuple of so many integers that are not below least, which a list or tuple tells."""
+    if not isinstance(value, (list, tuple)):
+        raise BadRates(-1)
+    for at, rate in enumerate(value):
+        if not is_at_least(rate, least):
+            raise BadRates(at)
+    if len(value) != many:
+        raise BadRates(len(value))
+    return tuple(value)
 
 
 def lowest(top, bottom):

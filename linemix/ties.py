@@ -15,6 +15,14 @@ def tied(order, *steps):
     return result
 
 
+def check_open(order, x, y, names):
+    """Raise BadPlace, with the name of the wrong one, or NotOpen unless x and y are places that are open."""
+    place_of(x, order.size, names[0])
+    place_of(y, order.size, names[1])
+    if not order.are_open(x, y):
+        raise NotOpen(x, y)
+
+
 def _is_single(order, low, high):
     """Tell whether low and high are open and their tie adds no other step."""
     if not order.are_open(low, high):

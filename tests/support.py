@@ -5,14 +5,18 @@ import random
 import unittest
 from itertools import combinations, permutations
 
+from linemix.costs import best_mix, best_paper, cost
 from linemix.counts import Counts
+from linemix.families import Family
+from linemix.lines import is_line
 from linemix.mixes import Mix
 from linemix.orders import Order
+from linemix.numbers import lowest
 from linemix.papers import Paper
 from linemix.shapes import antichain, chain
 from linemix.turning import Turner
 
-CLASSES = (Order, Counts, Mix, Paper, Turner)
+CLASSES = (Order, Counts, Mix, Paper, Turner, Family)
 NO_LISTS = (None, 1, True, "0123", {0}, {0: 1}, range(4))
 ORDER = Order(4, [(0, 2), (1, 2), (1, 3)])
 # What is no pair of ORDER: of another form, with what is no place, of one place, or with x below y.
@@ -76,6 +80,64 @@ class Case(unittest.TestCase):
         for name, value in vars(wanted).items():
             self.assertIs(type(vars(error)[name]), type(value))
         return error
+
+
+class CostCase(Case):
+    """A test case that shows costs from both sides: a mix that pays and a paper that holds, both looked at plainly."""
+
+    def fraction(self, value):
+        """The value is a fraction in lowest terms."""
+        self.assertIs(type(value), tuple)
+        top, bottom = value
+        self.assertTrue(type(top) is int and type(bottom) is int and bottom >= 1)
+        self.assertEqual(lowest(top, bottom), value)
+
+    def lines_pay(self, order, mix, tolls):
+        """The mix is one of lines of the order, each toll paid by the lines with x behind y."""
+        self.assertIs(type(mix), Mix)
+        for line, number in mix:
+            self.assertTrue(number >= 1 and is_line(order, line))
+        for x, y, toll in tolls:
+            paid = sum(number for line, number in mix if line.index(x) > line.index(y))
+            self.assertGreaterEqual(paid, toll * mix.bottom)
+        self.assertTrue(mix.pays(tolls) and mix.holds_in(order))
+
+    def no_line_earns_more(self, order, paper):
+        """The paper holds, by a look at all lines if they are few."""
+        self.assertIs(type(paper), Paper)
+        self.assertTrue(paper.holds_in_order(order))
+        if order.size <= 6:
+            ranks = ranks_of_lines(order)
+            earned = [sum(number for x, y, number in paper if rank[x] > rank[y]) for rank in ranks]
+            self.assertLessEqual(max(earned), paper.bottom)
+
+    def shown(self, order, tolls, wanted=None):
+        """The cost, shown by a best mix and a best paper."""
+        value = self.told(cost, order, tolls)
+        self.fraction(value)
+        if wanted is not None:
+            self.assertEqual(value, wanted)
+        mix = self.told(best_mix, order, tolls)
+        self.lines_pay(order, mix, tolls)
+        self.assertEqual(mix.total, value)
+        paper = self.told(best_paper, order, tolls)
+        self.no_line_earns_more(order, paper)
+        self.assertEqual(paper.value_at(tolls), value)
+        self.assertEqual(lowest(sum(number * tolls[x, y] for x, y, number in paper), paper.bottom), value)
+        for x, y, number in paper:
+            self.assertTrue(number >= 1 and tolls[x, y] >= 1)
+        return value
+
+
+def ranks_of_lines(order):
+    """For each line the places of the places in it; found once for each order."""
+    key = (order.size, order.steps_told())
+    if key not in _RANKS:
+        _RANKS[key] = [{place: at for at, place in enumerate(line)} for line in plain_lines(order)]
+    return _RANKS[key]
+
+
+_RANKS = {}
 
 
 def is_order_of(size, steps):
@@ -192,6 +254,25 @@ def some_counts(order, many, most):
     dice = random.Random(f"{order.size} {pairs} {many} {most}")
     chosen = [dice.sample(pairs, dice.randint(0, len(pairs))) for _ in range(many)]
     return [Counts([(x, y, dice.randint(0, most)) for x, y in lot]) for lot in chosen]
+
+
+def few_counts(order, many, tolled, most):
+    """The same counts on every run, of just so many tolled pairs (or all, if there are fewer)."""
+    pairs = plain_pairs(order)
+    dice = random.Random(f"{order.size} {pairs} {many} {tolled} {most}")
+    chosen = [dice.sample(pairs, min(tolled, len(pairs))) for _ in range(many)]
+    return [Counts([(x, y, dice.randint(1, most)) for x, y in lot]) for lot in chosen]
+
+
+def flipped_plainly(counts):
+    """The counts of (x, y) at (y, x)."""
+    return Counts([(y, x, number) for x, y, number in counts])
+
+
+def renumbered(counts, places):
+    """The counts of pairs of these places, at the pairs that they are in the sub-order."""
+    numbers = {place: at for at, place in enumerate(sorted(places))}
+    return Counts([(numbers[x], numbers[y], number) for x, y, number in counts if {x, y} <= set(numbers)])
 
 
 def earned_by(line, counts):

@@ -35,10 +35,50 @@ raises BadText(3)
 >>> heaviest(Order(4, [(0, 2), (1, 2), (1, 3)]), [1, 2, 3, 4])
 (7, (2, 3))
 
+>>> from linemix.counts import Counts
+>>> from linemix.shapes import antichain
+>>> from linemix.costs import cost
+>>> cost(antichain(3), Counts([(1, 0, 1), (2, 1, 1), (0, 2, 1)]))
+(3, 2)
+
+>>> from linemix.counts import Counts
+>>> from linemix.shapes import antichain
+>>> from linemix.wholes import whole_cost
+>>> q = Counts([(1, 0, 1), (2, 1, 1), (0, 2, 1)])
+>>> [whole_cost(antichain(3), q), whole_cost(antichain(3), q * 2)]
+[2, 3]
+
+>>> from linemix.counts import Counts
+>>> from linemix.shapes import antichain
+>>> from linemix.endless import endless
+>>> endless(antichain(3), Counts([(1, 0, 1), (1, 2, 2), (2, 0, 1)]), (0, 1))
+((3, 1), (1, 1))
+
 >>> from linemix.counts import Counts, check_fit
 >>> from linemix.shapes import chain
 >>> check_fit(chain(2), Counts([(1, 0, 2), (0, 1, 3)]))
 raises Unfit(x=0, y=1)
+
+>>> from linemix.families import Family, family_cost
+>>> from linemix.rates import rate_tolls
+>>> family = Family(3, [(0, 1), (0, 2), (1, 2)])
+>>> tolls, factor = rate_tolls(family, [(0, 2), (1, 1), (2, 0)], [1, 2, 3])
+>>> [list(tolls), factor, family_cost(family, tolls)]
+[[(0, 2, 1), (1, 1, 2), (2, 0, 3)], 6, (6, 1)]
+
+>>> from linemix.orders import Order
+>>> from linemix.rowing import row_turns, row_turns_back
+>>> order = Order(3, [(1, 2)])
+>>> [row_turns(order, (2, 0, 1)), row_turns_back(order, (2, 0, 1))]
+[((1, 0),), ((0, 2),)]
+
+>>> from linemix.orders import Order
+>>> from linemix.costs import tight_ones
+>>> from linemix.families import table_of
+>>> order = Order(4, [(0, 2), (1, 2), (1, 3)])
+>>> chosen, family, counts = table_of(order, tight_ones(order))
+>>> [chosen, family.lots, list(counts)]
+[(0, 1, 3), ((0,), (0, 1), (1, 2)), [(0, 2, 1), (1, 0, 1), (2, 1, 1)]]
 """
 
 
@@ -55,7 +95,7 @@ def shown(source, names):
 class ExamplesTest(unittest.TestCase):
     def test_examples(self):
         examples = EXAMPLES.strip().split("\n\n")
-        self.assertEqual(len(examples), 7)
+        self.assertEqual(len(examples), 13)
         for example in examples:
             *statements, wanted = example.split("\n")
             *first, last = [line.removeprefix(">>> ") for line in statements]

@@ -45,6 +45,28 @@ FUNCTIONS = {
     ),
     "counts": ("check_fit(order, counts)", "kept_on(order, counts)"),
     "worths": ("worth(order, weights)", "richest(order, weights)"),
+    "costs": (
+        "cost(order, tolls)", "best_mix(order, tolls)", "best_paper(order, tolls)", "tight_ones(order)",
+        "full_cost(order)",
+    ),
+    "splits": ("couple_costs(order, tolls, x, y)", "split_mix(mix, x, y)", "split_tolls(order, tolls, x, y)"),
+    "moving": ("falls(order, tolls)", "moved(order, weights, pair, other)", "moved_down(order, weights)"),
+    "endless": ("tolls_against(order, tolls, pair)", "beyond(order, tolls, pair)", "endless(order, tolls, pair)"),
+    "games": ("game_value(order, tolls)", "line_side(order, tolls)", "pair_side(order, tolls)"),
+    "wholes": ("whole_lines(order, tolls)", "whole_cost(order, tolls)", "dimension(order)"),
+    "rowing": (
+        "row_turns(order, row)", "row_turns_back(order, row)", "line_of_row(order, row)",
+        "chosen_turns(order, chosen, row)", "row_cost(order, tolls)", "row_worth(order, weights)",
+    ),
+    "families": (
+        "family_cost(family, tolls)", "family_mix(family, tolls)", "family_worth(family, weights)", "order_of(family)",
+        "family_counts(family, counts)", "table_of(order, tolls)",
+    ),
+    "rates": ("rate_tolls(family, lot, rates)", "rate_bound(family, tolls, rates)", "lot_bound(order)"),
+    "circles": (
+        "circles_in(family, lot)", "circle_counts(family, circle)", "is_level(family, weights)",
+        "level_parts(family, weights)", "standard_in(order)",
+    ),
 }
 
 CLASSES = {
@@ -61,6 +83,10 @@ CLASSES = {
     "papers.Paper": (
         "__init__(self, bottom, counts)", "__iter__(self)", "__eq__(self, other)", "value_at(self, tolls)",
         "holds_in_order(self, order)",
+    ),
+    "families.Family": (
+        "__init__(self, points, lots)", "point_pairs(self)", "lot_number(self, points)", "row_pairs(self, row)",
+        "__eq__(self, other)",
     ),
 }
 MADE = {"ones": "(order)", "at": "(lot, *, number=1)"}
@@ -116,15 +142,18 @@ class InterfaceTest(unittest.TestCase):
 
     def test_properties_and_class_methods(self):
         self.assertIs(type(vars(importlib.import_module("linemix.mixes").Mix)["total"]), property)
+        self.assertIs(type(vars(importlib.import_module("linemix.families").Family)["many"]), property)
         counts = importlib.import_module("linemix.counts").Counts
         for name, told in MADE.items():
             self.assertIs(type(vars(counts)[name]), classmethod)
             self.assertEqual(str(inspect.signature(vars(counts)[name].__get__(None, counts))), told)
 
     def test_attributes_are_set_on_each_object(self):
-        turning, mixes, papers, shapes, counts = [
-            importlib.import_module(f"linemix.{name}") for name in ("turning", "mixes", "papers", "shapes", "counts")
+        turning, mixes, papers, shapes, counts, families = [
+            importlib.import_module(f"linemix.{name}")
+            for name in ("turning", "mixes", "papers", "shapes", "counts", "families")
         ]
+        self.assertLessEqual({"points", "lots"}, set(vars(families.Family(1, []))))
         self.assertIn("order", vars(turning.Turner(shapes.chain(2))))
         self.assertIn("bottom", vars(mixes.Mix(1, ())))
         paper = papers.Paper(1, counts.Counts())

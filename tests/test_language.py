@@ -9,7 +9,8 @@ from tests.language import faults_in
 PACKAGE = Path(__file__).parent.parent / "linemix"
 LISTED = (
     "errors", "numbers", "places", "orders", "shapes", "lines", "swaps", "ties", "texts", "pairs", "leading", "turning",
-    "rings", "lots", "chains", "counts", "mixes", "papers", "worths",
+    "rings", "lots", "chains", "counts", "mixes", "papers", "worths", "costs", "splits", "moving", "endless", "games",
+    "wholes", "rowing", "families", "rates", "circles",
 )
 
 WRONG = (

@@ -3,8 +3,8 @@
 import unittest
 
 from linemix import (
-    chains, counts, leading, lines, lots, mixes, numbers, orders, pairs, papers, places, rings, shapes, swaps, texts,
-    ties, turning, worths,
+    chains, circles, costs, counts, endless, families, games, leading, lines, lots, mixes, moving, numbers, orders, pairs,
+    papers, places, rates, rings, rowing, shapes, splits, swaps, texts, ties, turning, wholes, worths,
 )
 from linemix.orders import Order
 from linemix.shapes import antichain, bent, chain, crown, standard
@@ -16,6 +16,10 @@ RING = ((1, 0), (2, 1), (0, 2))
 LOADS = (5, 0, 3, 1, 9, 9, 2, 4, 4, 4, 7, 1, 0, 10 ** 30, 2, 3)
 WEIGHTS = counts.Counts.ones(many_lines()) + counts.Counts([(0, 15, 3), (13, 1, 2)])
 MIX = mixes.Mix(6, (((1, 0, 2), 3), ((0, 1, 2), 2)))
+TOLLS = counts.Counts([(0, 15, 3), (15, 0, 2), (13, 1, 2), (1, 13, 9), (3, 14, 4), (14, 2, 1), (1, 0, 8)])
+ONES = costs.tight_ones(ORDER)
+FAMILY = families.Family(3, ((0, 1), (0, 2), (1, 2), ()))
+AT_POINTS = counts.Counts(((0, 2, 1), (1, 1, 2), (2, 0, 3), (1, 3, 1)))
 
 CALLS = (
     (numbers.lowest, (4, -6)),
@@ -92,6 +96,50 @@ CALLS = (
     (papers.Paper(3, WEIGHTS).holds_in_order, (many_lines(),)),
     (worths.worth, (many_lines(), WEIGHTS)),
     (worths.richest, (many_lines(), WEIGHTS)),
+    (costs.cost, (many_lines(), TOLLS)),
+    (costs.best_mix, (many_lines(), TOLLS)),
+    (costs.best_paper, (many_lines(), TOLLS)),
+    (costs.tight_ones, (bent(),)),
+    (costs.full_cost, (bent(),)),
+    (splits.couple_costs, (many_lines(), TOLLS, 0, 15)),
+    (splits.split_mix, (MIX, 0, 1)),
+    (splits.split_tolls, (many_lines(), TOLLS, 0, 15)),
+    (moving.falls, (ORDER, ONES)),
+    (moving.moved, (ORDER, ONES, (0, 1), (0, 3))),
+    (moving.moved_down, (many_lines(), TOLLS)),
+    (endless.tolls_against, (many_lines(), TOLLS, (0, 15))),
+    (endless.beyond, (many_lines(), TOLLS, (0, 15))),
+    (endless.endless, (many_lines(), TOLLS, (0, 15))),
+    (games.game_value, (many_lines(), TOLLS)),
+    (games.line_side, (many_lines(), TOLLS)),
+    (games.pair_side, (many_lines(), TOLLS)),
+    (wholes.whole_lines, (ORDER, ONES * 3)),
+    (wholes.whole_cost, (ORDER, ONES * 3)),
+    (wholes.dimension, (bent(),)),
+    (rowing.row_turns, (ORDER, (2, 1, 0, 3))),
+    (rowing.row_turns_back, (ORDER, (2, 1, 0, 3))),
+    (rowing.line_of_row, (ORDER, (2, 1, 0, 3))),
+    (rowing.chosen_turns, (ORDER, (2, 0, 3), (3, 2, 0))),
+    (rowing.row_cost, (antichain(16), TOLLS)),
+    (rowing.row_worth, (antichain(16), TOLLS)),
+    (families.Family, (3, ((0, 1), (2,), ()))),
+    (FAMILY.point_pairs, ()),
+    (FAMILY.lot_number, ((2, 0),)),
+    (FAMILY.row_pairs, ((2, 0, 1),)),
+    (families.family_cost, (FAMILY, AT_POINTS)),
+    (families.family_mix, (FAMILY, AT_POINTS)),
+    (families.family_worth, (FAMILY, AT_POINTS)),
+    (families.order_of, (FAMILY,)),
+    (families.family_counts, (FAMILY, AT_POINTS)),
+    (families.table_of, (many_lines(), TOLLS)),
+    (rates.rate_tolls, (FAMILY, ((0, 2), (2, 3)), (3, 1, 2))),
+    (rates.rate_bound, (FAMILY, AT_POINTS, (3, 1, 2))),
+    (rates.lot_bound, (bent(),)),
+    (circles.circles_in, (FAMILY, FAMILY.point_pairs())),
+    (circles.circle_counts, (FAMILY, (2, 0, 1))),
+    (circles.is_level, (FAMILY, AT_POINTS)),
+    (circles.level_parts, (FAMILY, AT_POINTS)),
+    (circles.standard_in, (standard(4),)),
 )
 
 
@@ -106,6 +154,10 @@ class RepeatsTest(Case):
         order = many_lines()
         same = Order(16, order.next_steps()[::-1])
         weights = counts.Counts(list(WEIGHTS)[::-1] + [(3, 3, 0)])
+        tolls = counts.Counts(list(TOLLS)[::-1] + [(3, 3, 0)])
+        for call in (costs.best_mix, costs.best_paper, games.line_side, families.table_of, rowing.row_worth):
+            self.assertEqual(call(same, tolls), call(order, TOLLS))
+        self.assertEqual(splits.split_tolls(same, tolls, 0, 15), splits.split_tolls(order, TOLLS, 0, 15))
         self.assertEqual(worths.richest(same, weights), worths.richest(order, WEIGHTS))
         self.assertEqual(chains.heaviest(same, LOADS), chains.heaviest(order, LOADS))
         self.assertEqual(chains.loaded_cover(same, LOADS), chains.loaded_cover(order, LOADS))

@@ -7,19 +7,30 @@ import random
 import time
 import unittest
 
+from linemix.circles import circles_in, level_parts, standard_in
 from linemix.chains import chain_cover, heaviest, high_line, loaded_cover, low_line, width
+from linemix.costs import best_mix, best_paper, cost, full_cost
 from linemix.counts import Counts
+from linemix.endless import endless
+from linemix.families import family_cost, family_mix, family_worth, table_of
 from linemix.leading import tight_for, tight_pairs
 from linemix.lots import greatest_lots, least_meetings, most_against, most_at_once
 from linemix.mixes import Mix
+from linemix.moving import falls, moved_down
 from linemix.orders import Order
 from linemix.pairs import all_pairs, is_quiet, open_pairs, sure_pairs
 from linemix.papers import Paper
 from linemix.rings import is_turnable, least_rings, ring_in
+from linemix.rowing import row_cost, row_turns, row_worth
 from linemix.shapes import antichain, bent, chain, standard
+from linemix.splits import split_tolls
 from linemix.turning import Turner, line_for
+from linemix.wholes import dimension, whole_lines
 from linemix.worths import richest, worth
-from tests.support import five_thousand_lower_sets, many_lines, some_counts, some_lots, some_orders
+from tests.families_support import point_counts, sixty_lots, some_families
+from tests.support import (
+    few_counts, five_thousand_lower_sets, many_lines, some_counts, some_lots, some_orders,
+)
 
 LIMIT = 30
 BIG = 10 ** 30
@@ -72,6 +83,44 @@ class SpeedTest(unittest.TestCase):
         order = five_thousand_lower_sets()
         counts = Counts.ones(order) * BIG
         self.quick([(worth, order, counts), (richest, order, counts), (Paper(1, counts).holds_in_order, order)])
+
+    def test_thousands_of_costs(self):
+        calls = []
+        for order in some_orders(60, 5, 6) + [antichain(6), bent(), standard(3)]:
+            for tolls in few_counts(order, 20, 5, BIG) + few_counts(order, 20, 5, 3):
+                calls += [(cost, order, tolls), (best_mix, order, tolls), (best_paper, order, tolls)]
+        self.assertGreater(len(calls), 7000)
+        self.quick(calls)
+
+    def test_thousands_of_whole_costs(self):
+        calls = []
+        for order in some_orders(60, 5, 6) + [antichain(6), bent(), standard(3)]:
+            for tolls in few_counts(order, 10, 5, 4) + few_counts(order, 10, 12, 2):
+                calls += [(whole_lines, order, tolls)]
+                calls += [(endless, order, tolls, pair) for pair in open_pairs(order)[:1]]
+                calls += [(split_tolls, order, tolls, *pair) for pair in open_pairs(order)[:1]]
+        self.assertGreater(len(calls), 3000)
+        self.quick(calls)
+
+    def test_bounds_of_costs(self):
+        for order in (antichain(12), five_thousand_lower_sets(), many_lines(), antichain(7), standard(6)):
+            for tolls in few_counts(order, 3, 30, BIG) + few_counts(order, 3, 30, 2):
+                self.quick([(call, order, tolls) for call in (cost, best_mix, best_paper, falls, moved_down)])
+            self.quick([(whole_lines, order, tolls) for tolls in few_counts(order, 3, 12, 2)])
+        self.quick([(full_cost, antichain(6)), (dimension, standard(8)), (standard_in, standard(8))])
+        order = antichain(16)
+        tolls = Counts([(x, (x + y) % 16, BIG - x) for x in range(12) for y in (3, 7)] + [(x, 15, 1) for x in range(6)])
+        self.quick([(row_cost, order, tolls)])
+        weights = Counts([(x, y, BIG + x * y) for x, y in all_pairs(order) if x < 12])
+        self.quick([(row_worth, order, weights), (table_of, order, weights), (row_turns, order, tuple(range(16)))])
+
+    def test_bounds_of_families(self):
+        for family in [sixty_lots()] + some_families(5, 12, 12):
+            pairs = family.point_pairs()
+            for tolls in point_counts(family, 2, 30, BIG) + point_counts(family, 2, 30, 2):
+                self.quick([(family_cost, family, tolls), (family_mix, family, tolls)])
+            ones = Counts.at(pairs)
+            self.quick([(family_worth, family, ones), (level_parts, family, ones), (circles_in, family, pairs)])
 
     def test_mixes_of_many_lines(self):
         order = Order(16)

@@ -1,0 +1,92 @@
+"""For the package itself: the cheapest weights on lots that give each want its toll, exactly."""
+
+
+class Tableau:
+    """As many lots as wants, with the numbers by which they give each want just its toll; all over one bottom.
+
+    Row k of the grid holds the number of lot k, and behind it how this number changes with each toll. The row worths
+    holds the total, and behind it the weight of each want. The lot None stands for what one want gets too much.
+    """
+
+    def __init__(self, tolls):
+        wants = range(len(tolls))
+        self.bottom = 1
+        self.lots = [(at,) for at in wants]
+        self.grid = [[toll] + [1 if at == other else 0 for other in wants] for at, toll in enumerate(tolls)]
+        self.worths = [sum(tolls)] + [1] * len(tolls)
+
+    def weights(self):
+        """Return the weights of the wants."""
+        return self.worths[1:]
+
+    def enter_lot(self, lot):
+        """Exchange some lot for this one, which weighs more than the bottom."""
+        column = [sum([row[at + 1] for at in lot]) for row in self.grid]
+        gain = sum([self.worths[at + 1] for at in lot]) - self.bottom
+        self._exchange(lot, column, gain)
+
+    def give_back(self, want):
+        """Exchange some lot for what this want, whose weight is below 0, gets too much."""
+        self._exchange(None, [-row[want + 1] for row in self.grid], -self.worths[want + 1])
+
+    def _exchange(self, lot, column, gain):
+        at = self._leaving(column)
+        kept = self.grid[at]
+        pivot = column[at]
+        bottom = self.bottom
+        grid = [_cleared(row, kept, pivot, factor, bottom) for row, factor in zip(self.grid, column)]
+        grid[at] = kept
+        self.worths = _cleared(self.worths, kept, pivot, gain, bottom)
+        self.grid = grid
+        self.lots[at] = lot
+        self.bottom = pivot
+
+    def _leaving(self, column):
+        """Return the number of the lot that falls to 0 first as the new one grows."""
+        best = None
+        for at, (row, factor) in enumerate(zip(self.grid, column)):
+            if factor > 0 and (best is None or _is_less(row, factor, self.grid[best], column[best])):
+                best = at
+        return best
+
+
+def _cleared(row, kept, pivot, factor, bottom):
+    """Return the row less a multiple of the row that is kept, over the new bottom; each division leaves nothing."""
+    if factor == 0:
+        return [value * pivot // bottom for value in row]
+    return [(value * pivot - factor * part) // bottom for value, part in zip(row, kept)]
+
+
+def _is_less(row, factor, other, its_factor):
+    """Tell whether the row over its factor is less than the other one, at the first place where they differ.
+
+    Asking for all places, not for the first one alone, keeps exchanges from going round in circles.
+    """
+    for value, its_value in zip(row, other):
+        if value * its_factor != its_value * factor:
+            return value * its_factor < its_value * factor
+    return False
+
+
+def least_mix(ladder, tolls):
+    """Return a tuple (bottom, list of tuples (lot, number), list of weights of the wants).
+
+    The lots are served by rows of the ladder, the numbers over the bottom are the cheapest ones that give each want its
+    toll, and no row serves wants that weigh more than the bottom together.
+    """
+    table = Tableau(tolls)
+    known = []
+    while True:
+        weights = table.weights()
+        if min(weights) < 0:
+            table.give_back(weights.index(min(weights)))
+            continue
+        gains = [sum([weights[at] for at in lot]) for lot in known]
+        if max(gains, default=0) > table.bottom:
+            table.enter_lot(known[gains.index(max(gains))])
+            continue
+        found = [lot for weight, lot in ladder.rich_lots(weights) if weight > table.bottom]
+        if not found:
+            numbers = [row[0] for row in table.grid]
+            return table.bottom, [(lot, number) for lot, number in zip(table.lots, numbers) if lot and number], weights
+        known = known + found
