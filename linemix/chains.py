@@ -154,7 +154,7 @@ def is_an_antichain(order, places):
     return all([order.are_open(x, y) for x, y in couples_of(places_of(places, order.size))])
 
 
-def _chain_of(order, value):
+def chain_of(order, value):
     """Return the chain that a list or tuple names."""
     places = places_of(value, order.size)
     couple = _first_open(order, places)
@@ -175,16 +175,16 @@ def _pairs_under(order, places):
 
 def low_line(order, chosen):
     """Return a line that turns all pairs (x, c) with c in the chain."""
-    return line_turning(order, _pairs_over(order, _chain_of(order, chosen)))
+    return line_turning(order, _pairs_over(order, chain_of(order, chosen)))
 
 
 def high_line(order, chosen):
     """Return a line that turns all pairs (c, y) with c in the chain."""
-    return line_turning(order, _pairs_under(order, _chain_of(order, chosen)))
+    return line_turning(order, _pairs_under(order, chain_of(order, chosen)))
 
 
 def both_line(order, chosen, others):
     """Return a line that puts the first chain low and the second one high, as above; None if there is none."""
-    low = _chain_of(order, chosen)
-    high = _chain_of(order, others)
+    low = chain_of(order, chosen)
+    high = chain_of(order, others)
     return line_turning(order, _pairs_over(order, low) + _pairs_under(order, high))

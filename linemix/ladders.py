@@ -8,8 +8,8 @@ from linemix.wants import narrowed, row_serving
 class Ladder:
     """All beginnings of rows, taken as sets of points, each one told by those with one point less.
 
-    needs and wants are told as in linemix.wants. A beginning comes from one with a point less by a step (number of that
-    one, number of a lot): the lot of the wants that the new last point serves, whatever comes behind it.
+    needs and wants are told as in linemix.wants. A rung holds the ways to one beginning as tuples of two: the number of
+    one with a point less, and the number of the lot of wants that the new last point serves, whatever comes behind it.
     """
 
     def __init__(self, needs, wants):
@@ -18,12 +18,12 @@ class Ladder:
         for at, (point, mask) in enumerate(wants):
             self._asked[point].append((at, mask))
         self._lot_numbers = {(): 0}
-        self._steps = [[]]
+        self._rungs = [[]]
         self._climb()
         self._lots = list(self._lot_numbers)
 
     def _climb(self):
-        """Find all beginnings, by their number of points."""
+        """Find all beginnings, those with few points first."""
         reached = {0: 0}
         level = [0]
         full = full_mask(len(self._needs))
@@ -34,9 +34,9 @@ class Ladder:
                     grown = mask | (1 << point)
                     if grown not in reached:
                         reached[grown] = len(reached)
-                        self._steps.append([])
+                        self._rungs.append([])
                         wider.append(grown)
-                    self._steps[reached[grown]].append((reached[mask], self._lot_number(mask, point)))
+                    self._rungs[reached[grown]].append((reached[mask], self._lot_number(mask, point)))
             level = wider
 
     def _lot_number(self, mask, point):
@@ -52,9 +52,9 @@ class Ladder:
         """
         gains = [sum([weights[at] for at in lot]) for lot in self._lots]
         best = [0]
-        for steps in self._steps[1:]:
-            best.append(max([best[low] + gains[lot] for low, lot in steps]))
-        last = self._steps[-1] if len(best) > 1 else [(0, 0)]
+        for ways in self._rungs[1:]:
+            best.append(max([best[low] + gains[lot] for low, lot in ways]))
+        last = self._rungs[-1] if len(best) > 1 else [(0, 0)]
         return [(best[low] + gains[lot], self._way_to(best, gains, low) + self._lots[lot]) for low, lot in last]
 
     def _way_to(self, best, gains, number):
@@ -62,7 +62,7 @@ class Ladder:
         served = ()
         reached = number
         while reached:
-            ways = [step for step in self._steps[reached] if best[step[0]] + gains[step[1]] == best[reached]]
+            ways = [(low, at) for low, at in self._rungs[reached] if best[low] + gains[at] == best[reached]]
             reached, lot = ways[0]
             served = served + self._lots[lot]
         return served

@@ -29,6 +29,11 @@ def least_row(needs, left):
     return row
 
 
+def least_line(order):
+    """Return the first line, ascending."""
+    return least_row(order.belows, full_mask(order.size))
+
+
 def _line_after(order, line):
     """Return the next line behind this one, ascending, or None behind the last one."""
     left = 0
@@ -42,7 +47,7 @@ def _line_after(order, line):
 
 def each_line(order):
     """Yield all lines, ascending, each made when it is asked for."""
-    line = least_row(order.belows, full_mask(order.size))
+    line = least_line(order)
     while line is not None:
         yield line
         line = _line_after(order, line)

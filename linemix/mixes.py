@@ -107,3 +107,10 @@ class Mix:
 
     def __eq__(self, other):
         return isinstance(other, Mix) and self._rows_times(other.bottom) == other._rows_times(self.bottom)
+
+
+def check_lines(order, mix):
+    """Raise BadMix for the first row of the mix whose line is no line of the order."""
+    for at, (line, _) in enumerate(mix.rows):
+        if len(line) != order.size or not is_line(order, line):
+            raise BadMix(at)

@@ -11,7 +11,7 @@ class Tableau:
     def __init__(self, tolls):
         wants = range(len(tolls))
         self.bottom = 1
-        self.lots = [(at,) for at in wants]
+        self.basis = [(at,) for at in wants]
         self.grid = [[toll] + [1 if at == other else 0 for other in wants] for at, toll in enumerate(tolls)]
         self.worths = [sum(tolls)] + [1] * len(tolls)
 
@@ -38,7 +38,7 @@ class Tableau:
         grid[at] = kept
         self.worths = _cleared(self.worths, kept, pivot, gain, bottom)
         self.grid = grid
-        self.lots[at] = lot
+        self.basis[at] = lot
         self.bottom = pivot
 
     def _leaving(self, column):
@@ -88,5 +88,5 @@ def least_mix(ladder, tolls):
         found = [lot for weight, lot in ladder.rich_lots(weights) if weight > table.bottom]
         if not found:
             numbers = [row[0] for row in table.grid]
-            return table.bottom, [(lot, number) for lot, number in zip(table.lots, numbers) if lot and number], weights
+            return table.bottom, [(lot, number) for lot, number in zip(table.basis, numbers) if lot and number], weights
         known = known + found

@@ -13,10 +13,11 @@ from linemix.mixes import Mix
 from linemix.orders import Order
 from linemix.numbers import lowest
 from linemix.papers import Paper
+from linemix.series import Above, Beside, Leaf, Node
 from linemix.shapes import antichain, chain
 from linemix.turning import Turner
 
-CLASSES = (Order, Counts, Mix, Paper, Turner, Family)
+CLASSES = (Order, Counts, Mix, Paper, Turner, Family, Leaf, Above, Beside)
 NO_LISTS = (None, 1, True, "0123", {0}, {0: 1}, range(4))
 ORDER = Order(4, [(0, 2), (1, 2), (1, 3)])
 # What is no pair of ORDER: of another form, with what is no place, of one place, or with x below y.
@@ -37,7 +38,19 @@ def as_lists(value):
 def held_by(call, args, named):
     """All that a call could change: its arguments, what objects among them hold, and the object whose method it is."""
     owner = getattr(call, "__self__", call)
-    return args, named, [vars(value) for value in (owner, *args) if isinstance(value, CLASSES)]
+    held = [vars(value) for value in (owner, *args) if isinstance(value, CLASSES)]
+    return node_free(args), node_free(named), node_free(held)
+
+
+def node_free(value):
+    """The value with each node in it replaced by what it holds: nodes are equal to nothing but themselves."""
+    if isinstance(value, Node):
+        return type(value).__name__, node_free(vars(value))
+    if isinstance(value, (list, tuple)):
+        return type(value)([node_free(entry) for entry in value])
+    if isinstance(value, dict):
+        return {key: node_free(entry) for key, entry in value.items()}
+    return value
 
 
 class Case(unittest.TestCase):

@@ -11,8 +11,7 @@ from linemix.pairs import all_pairs, open_pairs, pairs_against, sure_pairs
 from linemix.shapes import antichain, bent, chain, standard
 from linemix.ties import tied
 from tests.support import (
-    NO_PAIRS, ORDER, CostCase, few_counts, five_thousand_lower_sets, flipped_plainly, many_lines, small_orders,
-    some_counts, some_orders,
+    NO_PAIRS, ORDER, CostCase, few_counts, five_thousand_lower_sets, flipped_plainly, small_orders, some_orders,
 )
 
 CALLS = (tolls_against, beyond, endless)
@@ -94,7 +93,7 @@ class EndlessTest(CostCase):
         rivals = tolls_against(order, tolls, (0, 11))
         self.assertEqual(len(rivals), 36)
         self.fails(TooMany(30), endless, order, tolls, (0, 11))
-        self.assertEqual(beyond(order, some_counts(many_lines(), 1, 0)[0], (0, 11)), (0, 1))
+        self.assertEqual(beyond(order, Counts(), (0, 11)), (0, 1))
 
 
 if __name__ == "__main__":

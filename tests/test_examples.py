@@ -79,6 +79,56 @@ raises Unfit(x=0, y=1)
 >>> chosen, family, counts = table_of(order, tight_ones(order))
 >>> [chosen, family.lots, list(counts)]
 [(0, 1, 3), ((0,), (0, 1), (1, 2)), [(0, 2, 1), (1, 0, 1), (2, 1, 1)]]
+
+>>> from linemix.shapes import antichain
+>>> from linemix.filling import closed_sets, place_in
+>>> [closed_sets(antichain(2)), place_in(antichain(2), 1)]
+[[(), (0,), (1,), (0, 1)], 2]
+
+>>> from linemix.shapes import antichain, chain
+>>> from linemix.counts import Counts
+>>> from linemix.putting import cross_counts, put_cost
+>>> parts = [chain(2), antichain(2)]
+>>> tolls = Counts([(0, 1, 2), (1, 0, 1)])
+>>> inner = [Counts(), Counts([(0, 1, 1), (1, 0, 3)])]
+>>> [list(cross_counts(antichain(2), parts, tolls)), put_cost(antichain(2), tolls, parts, inner)]
+[[(0, 2, 2), (0, 3, 2), (1, 2, 2), (1, 3, 2), (2, 0, 1), (2, 1, 1), (3, 0, 1), (3, 1, 1)], (4, 1)]
+
+>>> from linemix.series import Above, Beside, Leaf
+>>> pile = Above(Leaf(), Leaf(), toll=4)
+>>> node = Above(Leaf(), Beside(Leaf(), pile, over=2, back=1))
+>>> [node.words(), list(node.series_tolls()), node.series_cost()]
+['(1 < (1 , (1 < 1)))', [(1, 2, 2), (1, 3, 2), (2, 1, 1), (3, 1, 1), (3, 2, 4)], 4]
+
+>>> from linemix.shapes import chain
+>>> from linemix.counts import Counts
+>>> from linemix.costs import cost
+>>> from linemix.worths import worth
+>>> from linemix.products import end_counts
+>>> made = end_counts(chain(2), chain(3), Counts([(1, 0, 3)]), Counts([(1, 0, 4)]))
+>>> grid = chain(2) * chain(3)
+>>> [list(made), cost(grid, made), worth(grid, made)]
+[[(1, 3, 4), (3, 2, 3)], (7, 1), 4]
+
+>>> from linemix.shapes import standard
+>>> from linemix.counts import Counts
+>>> from linemix.costs import cost
+>>> from linemix.onemore import place_bound, tolls_at
+>>> tolls = Counts([(0, 3, 1), (1, 4, 2), (2, 5, 4)])
+>>> [tolls_at(standard(3), tolls, 2), place_bound(standard(3), tolls, 2), cost(standard(3), tolls)]
+[(4, 0), (7, 1), (7, 1)]
+
+>>> from linemix.shapes import antichain
+>>> from linemix.counts import Counts
+>>> from linemix.tying import both_ties, tie_ends
+>>> tolls = Counts([(0, 1, 1), (1, 2, 1)])
+>>> [tie_ends(antichain(3), tolls, 0, 2), both_ties(antichain(3), tolls, 0, 2)]
+[((1, 1), (2, 1), (2, 1)), ((1, 1), (2, 1), (1, 1))]
+
+>>> from linemix.shapes import standard
+>>> from linemix.walking import place_walk
+>>> place_walk(standard(3))
+[(0, (0, 1)), (1, (2, 1)), (2, (2, 1)), (3, (2, 1)), (4, (2, 1)), (5, (3, 1))]
 """
 
 
@@ -95,7 +145,7 @@ def shown(source, names):
 class ExamplesTest(unittest.TestCase):
     def test_examples(self):
         examples = EXAMPLES.strip().split("\n\n")
-        self.assertEqual(len(examples), 13)
+        self.assertEqual(len(examples), 20)
         for example in examples:
             *statements, wanted = example.split("\n")
             *first, last = [line.removeprefix(">>> ") for line in statements]

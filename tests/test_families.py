@@ -17,7 +17,7 @@ from tests.families_support import (
     TRIANGLE, all_sets, plain_point_pairs, plain_row_pairs, plain_rows, point_counts, sixty_lots, some_families,
 )
 from tests.support import (
-    NO_LISTS, ORDER, CostCase, as_lists, few_counts, five_thousand_lower_sets, many_lines, small_orders, some_counts,
+    NO_LISTS, ORDER, CostCase, as_lists, few_counts, five_thousand_lower_sets, many_lines, small_orders,
     some_orders,
 )
 
@@ -275,7 +275,6 @@ class TableOfTest(CostCase):
 
     def test_lists(self):
         self.assertEqual(Family(3, as_lists(TRIANGLE.lots)), TRIANGLE)
-        self.assertEqual(len(some_counts(ORDER, 1, 1)), 1)
 
 
 if __name__ == "__main__":

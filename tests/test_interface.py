@@ -67,7 +67,45 @@ FUNCTIONS = {
         "circles_in(family, lot)", "circle_counts(family, circle)", "is_level(family, weights)",
         "level_parts(family, weights)", "standard_in(order)",
     ),
+    "tworows": ("two_rows(order)", "two_row_counts(order, counts)"),
+    "filling": (
+        "closed_sets(order)", "filled_in(order)", "place_in(order, x)", "fills(order, places)", "needed_places(order)",
+    ),
+    "putting": (
+        "put_in(order, parts)", "part_place(parts, x, u)", "parts_at(parts, number)",
+        "cross_counts(order, parts, counts)", "inner_counts(parts, x, counts)", "put_cost(order, tolls, parts, inner)",
+        "spread_counts(order, parts, weights, loads)", "put_worth(order, parts, weights, loads, inner)",
+        "inner_mix(order, parts, mix, mixes)",
+    ),
+    "series": ("series_lines(node)", "is_series(order)"),
+    "products": (
+        "multiplied(*orders)", "ends_of(order)", "end_counts(one, other, tolls, others)",
+        "first_line(one, other, line, beside)", "second_line(one, other, line, beside)",
+        "product_mix(one, other, mix, mixes)", "with_ends(order)", "end_sort(one, other, line)",
+    ),
+    "commons": (
+        "common_steps(one, other)", "common_mix(one, other, mix, mixes)", "common_bound(one, tolls, other, others)",
+        "flipped(counts)",
+    ),
+    "onemore": (
+        "without(order, chosen)", "tolls_without(order, tolls, chosen)", "tolls_at(order, tolls, x)",
+        "up_line(order, x, line)", "down_line(order, x, line)", "place_mix(order, tolls, x, mix)",
+        "place_bound(order, tolls, x)", "chain_bound(order, tolls, chosen)", "couple_bound(order, tolls, x, y)",
+        "couple_line(order, x, y)",
+    ),
+    "widths": (
+        "load_bound(order, tolls, *, upper=False)", "load_mix(order, tolls, *, upper=False)", "tops_bound(order)",
+        "number_bound(order)", "half_bound(order)", "best_bound(order)", "clear_two(order, u, v)",
+        "is_standard(order)", "is_bent(order)",
+    ),
+    "tying": (
+        "tie_lines(order, u, v, line)", "tie_mix(order, u, v, mix)", "tie_ends(order, tolls, u, v)",
+        "both_ties(order, tolls, u, v)", "untied_bound(order, tolls, u, v)",
+    ),
+    "walking": ("tie_walk(order, tolls)", "place_walk(order)"),
 }
+
+NODE_METHODS = ("size_of(self)", "series_order(self)", "series_tolls(self)", "series_cost(self)", "words(self)")
 
 CLASSES = {
     "turning.Turner": ("__init__(self, order)", "__call__(self, line)"),
@@ -88,6 +126,10 @@ CLASSES = {
         "__init__(self, points, lots)", "point_pairs(self)", "lot_number(self, points)", "row_pairs(self, row)",
         "__eq__(self, other)",
     ),
+    "series.Node": (),
+    "series.Leaf": NODE_METHODS,
+    "series.Above": ("__init__(self, *nodes, toll=0)",) + NODE_METHODS,
+    "series.Beside": ("__init__(self, first, second, *, over=0, back=0)",) + NODE_METHODS,
 }
 MADE = {"ones": "(order)", "at": "(lot, *, number=1)"}
 
@@ -139,6 +181,12 @@ class InterfaceTest(unittest.TestCase):
             for told in methods:
                 method = vars(made)[told.partition("(")[0]]
                 self.assertEqual(f"{method.__name__}{inspect.signature(method)}", told)
+
+    def test_nodes(self):
+        series = importlib.import_module("linemix.series")
+        for kind in (series.Leaf, series.Above, series.Beside):
+            self.assertTrue(issubclass(kind, series.Node))
+        self.assertNotIn("__init__", vars(series.Leaf))
 
     def test_properties_and_class_methods(self):
         self.assertIs(type(vars(importlib.import_module("linemix.mixes").Mix)["total"]), property)

@@ -10,7 +10,8 @@ PACKAGE = Path(__file__).parent.parent / "linemix"
 LISTED = (
     "errors", "numbers", "places", "orders", "shapes", "lines", "swaps", "ties", "texts", "pairs", "leading", "turning",
     "rings", "lots", "chains", "counts", "mixes", "papers", "worths", "costs", "splits", "moving", "endless", "games",
-    "wholes", "rowing", "families", "rates", "circles",
+    "wholes", "rowing", "families", "rates", "circles", "tworows", "filling", "putting", "series", "products", "commons",
+    "onemore", "widths", "tying", "walking",
 )
 
 WRONG = (

@@ -3,8 +3,9 @@
 import unittest
 
 from linemix import (
-    chains, circles, costs, counts, endless, families, games, leading, lines, lots, mixes, moving, numbers, orders, pairs,
-    papers, places, rates, rings, rowing, shapes, splits, swaps, texts, ties, turning, wholes, worths,
+    chains, circles, commons, costs, counts, endless, families, filling, games, leading, lines, lots, mixes, moving,
+    numbers, onemore, orders, pairs, papers, places, products, putting, rates, rings, rowing, series, shapes, splits, swaps,
+    texts, ties, turning, tworows, tying, walking, wholes, widths, worths,
 )
 from linemix.orders import Order
 from linemix.shapes import antichain, bent, chain, crown, standard
@@ -19,6 +20,11 @@ MIX = mixes.Mix(6, (((1, 0, 2), 3), ((0, 1, 2), 2)))
 TOLLS = counts.Counts([(0, 15, 3), (15, 0, 2), (13, 1, 2), (1, 13, 9), (3, 14, 4), (14, 2, 1), (1, 0, 8)])
 ONES = costs.tight_ones(ORDER)
 FAMILY = families.Family(3, ((0, 1), (0, 2), (1, 2), ()))
+PARTS = (chain(2), antichain(2), chain(1), chain(1))
+INNER = (counts.Counts(((1, 0, 2),)), counts.Counts(((0, 1, 1), (1, 0, 3))), counts.Counts(), counts.Counts())
+MIX_OF_TWO = mixes.Mix(2, (((0, 1), 1), ((1, 0), 4)))
+LINES = mixes.Mix(3, (((0, 1, 2, 3), 2), ((1, 3, 0, 2), 5)))
+NODE = series.Above(series.Leaf(), series.Beside(series.Leaf(), series.Leaf(), over=2, back=1), toll=4)
 AT_POINTS = counts.Counts(((0, 2, 1), (1, 1, 2), (2, 0, 3), (1, 3, 1)))
 
 CALLS = (
@@ -140,6 +146,66 @@ CALLS = (
     (circles.is_level, (FAMILY, AT_POINTS)),
     (circles.level_parts, (FAMILY, AT_POINTS)),
     (circles.standard_in, (standard(4),)),
+    (tworows.two_rows, (ORDER,)),
+    (tworows.two_row_counts, (ORDER, ONES)),
+    (filling.closed_sets, (ORDER,)),
+    (filling.filled_in, (ORDER,)),
+    (filling.place_in, (ORDER, 2)),
+    (filling.fills, (ORDER, (3, 1, 0))),
+    (filling.needed_places, (bent(),)),
+    (putting.put_in, (ORDER, PARTS)),
+    (putting.part_place, (PARTS, 1, 1)),
+    (putting.parts_at, (PARTS, 4)),
+    (putting.cross_counts, (ORDER, PARTS, ONES)),
+    (putting.inner_counts, (PARTS, 1, INNER[1])),
+    (putting.put_cost, (ORDER, ONES, PARTS, INNER)),
+    (putting.spread_counts, (ORDER, PARTS, ONES, ((1, 2), (0, 3), (4,), (1,)))),
+    (putting.put_worth, (ORDER, PARTS, ONES, ((1, 2), (0, 3), (4,), (1,)), INNER)),
+    (putting.inner_mix, (ORDER, PARTS, LINES, (mixes.Mix(2, ()), MIX_OF_TWO, mixes.Mix(1, ()), mixes.Mix(1, ())))),
+    (NODE.series_order, ()),
+    (NODE.series_tolls, ()),
+    (NODE.series_cost, ()),
+    (NODE.words, ()),
+    (series.series_lines, (NODE,)),
+    (series.is_series, (ORDER,)),
+    (products.multiplied, (chain(2), antichain(3))),
+    (products.ends_of, (chain(4),)),
+    (products.end_counts, (chain(2), chain(3), counts.Counts(((1, 0, 3),)), counts.Counts(((2, 1, 4),)))),
+    (products.first_line, (ORDER, chain(2), (1, 3, 0, 2), (0, 1))),
+    (products.second_line, (ORDER, chain(2), (1, 3, 0, 2), (0, 1))),
+    (products.product_mix, (ORDER, antichain(2), LINES, MIX_OF_TWO)),
+    (products.with_ends, (ORDER,)),
+    (products.end_sort, (chain(2), chain(2), (0, 2, 1, 3))),
+    (commons.common_steps, (ORDER, chain(4))),
+    (commons.common_mix, (ORDER, antichain(4), LINES, LINES)),
+    (commons.common_bound, (ORDER, ONES, antichain(4), ONES)),
+    (commons.flipped, (TOLLS,)),
+    (onemore.without, (ORDER, (3, 0))),
+    (onemore.tolls_without, (ORDER, ONES, (2,))),
+    (onemore.tolls_at, (ORDER, ONES, 3)),
+    (onemore.up_line, (ORDER, 2, (0, 1, 2))),
+    (onemore.down_line, (ORDER, 2, (0, 1, 2))),
+    (onemore.place_mix, (ORDER, ONES, 3, MIX)),
+    (onemore.place_bound, (ORDER, ONES, 3)),
+    (onemore.chain_bound, (ORDER, ONES, (2, 0))),
+    (onemore.couple_bound, (ORDER, ONES, 0, 3)),
+    (onemore.couple_line, (ORDER, 0, 3)),
+    (widths.load_bound, (many_lines(), TOLLS)),
+    (widths.load_mix, (many_lines(), TOLLS)),
+    (widths.tops_bound, (bent(),)),
+    (widths.number_bound, (bent(),)),
+    (widths.half_bound, (bent(),)),
+    (widths.best_bound, (bent(),)),
+    (widths.clear_two, (ORDER, 1, 2)),
+    (widths.is_standard, (bent(),)),
+    (widths.is_bent, (bent(),)),
+    (tying.tie_lines, (ORDER, 0, 3, (1, 3, 0, 2))),
+    (tying.tie_mix, (ORDER, 0, 3, LINES)),
+    (tying.tie_ends, (many_lines(), TOLLS, 0, 15)),
+    (tying.both_ties, (many_lines(), TOLLS, 0, 15)),
+    (tying.untied_bound, (ORDER, ONES, 1, 3)),
+    (walking.tie_walk, (ORDER, ONES)),
+    (walking.place_walk, (ORDER,)),
 )
 
 

@@ -12,20 +12,27 @@ from linemix.chains import chain_cover, heaviest, high_line, loaded_cover, low_l
 from linemix.costs import best_mix, best_paper, cost, full_cost
 from linemix.counts import Counts
 from linemix.endless import endless
+from linemix.filling import closed_sets, fills, needed_places
 from linemix.families import family_cost, family_mix, family_worth, table_of
 from linemix.leading import tight_for, tight_pairs
 from linemix.lots import greatest_lots, least_meetings, most_against, most_at_once
 from linemix.mixes import Mix
 from linemix.moving import falls, moved_down
+from linemix.onemore import chain_bound, place_bound
 from linemix.orders import Order
 from linemix.pairs import all_pairs, is_quiet, open_pairs, sure_pairs
 from linemix.papers import Paper
+from linemix.putting import cross_counts, put_cost, put_in
 from linemix.rings import is_turnable, least_rings, ring_in
 from linemix.rowing import row_cost, row_turns, row_worth
+from linemix.series import is_series
 from linemix.shapes import antichain, bent, chain, standard
 from linemix.splits import split_tolls
 from linemix.turning import Turner, line_for
+from linemix.tying import both_ties, tie_ends
+from linemix.walking import place_walk, tie_walk
 from linemix.wholes import dimension, whole_lines
+from linemix.widths import best_bound, is_standard, load_bound, load_mix
 from linemix.worths import richest, worth
 from tests.families_support import point_counts, sixty_lots, some_families
 from tests.support import (
@@ -121,6 +128,37 @@ class SpeedTest(unittest.TestCase):
                 self.quick([(family_cost, family, tolls), (family_mix, family, tolls)])
             ones = Counts.at(pairs)
             self.quick([(family_worth, family, ones), (level_parts, family, ones), (circles_in, family, pairs)])
+
+    def test_thousands_of_calls_on_made_orders(self):
+        calls = []
+        for order in some_orders(60, 6, 7) + [standard(3), bent()]:
+            for tolls in few_counts(order, 5, 5, 9):
+                for x in range(order.size):
+                    calls += [(place_bound, order, tolls, x), (chain_bound, order, tolls, (x,))]
+                calls += [(load_mix, order, tolls), (load_bound, order, tolls)]
+                for u, v in open_pairs(order)[:2]:
+                    calls += [(tie_ends, order, tolls, u, v), (both_ties, order, tolls, u, v)]
+            calls += [(call, order) for call in (best_bound, needed_places, is_series, is_standard, closed_sets)]
+        for order in some_orders(100, 3, 3):
+            parts = some_orders(3, 1, 3)
+            inner = [few_counts(part, 1, 3, 5)[0] for part in parts]
+            for tolls in few_counts(order, 5, 4, 5):
+                calls += [(put_in, order, parts), (cross_counts, order, parts, tolls)]
+                calls += [(put_cost, order, tolls, parts, inner)]
+        self.assertGreater(len(calls), 5000)
+        self.quick(calls)
+
+    def test_bounds_of_made_orders(self):
+        for order in (antichain(12), five_thousand_lower_sets(), many_lines(), antichain(7)):
+            for tolls in few_counts(order, 2, 29, BIG) + few_counts(order, 2, 29, 2):
+                u, v = open_pairs(order)[3]
+                self.quick([(tie_ends, order, tolls, u, v), (both_ties, order, tolls, u, v)])
+                self.quick([(place_bound, order, tolls, 0), (load_mix, order, tolls)])
+        for order in (chain(12), chain(6) + chain(6), chain(4) + chain(4) + chain(4), standard(6)):
+            self.quick([(tie_walk, order, tolls) for tolls in few_counts(order, 1, 30, BIG)])
+            self.quick([(place_walk, order)])
+        for order in (standard(8), antichain(16), chain(16), many_lines()):
+            self.quick([(fills, order, tuple(range(16))), (needed_places, order), (best_bound, order), (is_series, order)])
 
     def test_mixes_of_many_lines(self):
         order = Order(16)

@@ -22,6 +22,13 @@ from tests.support import (
 CALLS = (whole_cost, whole_lines)
 # An order with six tight pairs that cost 3, while no three lines turn them all.
 GAP = Order(12, [(i, 6 + j) for i in range(6) for j in range(6) if (j - i) % 6 in (1, 3, 4, 5)])
+# Orders of 16 places, with tolls at the pairs (i, 8 + i), whose whole cost is no easy matter: i is below 8 + j where the
+# word of i has the digit j.
+HARD = (
+    (("1267", "45", "13467", "014", "067", "02347", "1357", "13"), (2,) * 8),
+    (("4", "0457", "0167", "012457", "256", "027", "0135", "046"), (2,) * 8),
+    (("57", "06", "17", "02", "13", "24", "35", "46"), (1, 2, 1, 2, 1, 1, 1, 1)),
+)
 
 
 def fewest(lots, tolls):
@@ -90,6 +97,13 @@ class WholeTest(CostCase):
         for at in range(6):
             tolls = Counts.at(pairs).with_count(at, 6 + at, 3)
             self.shown_whole(GAP, tolls, fewest(lots, list(tolls)))
+
+    def test_where_parts_of_lines_are_of_no_use(self):
+        for words, row in HARD:
+            order = Order(16, [(i, 8 + int(digit)) for i, word in enumerate(words) for digit in word])
+            tolls = Counts([(i, 8 + i, toll) for i, toll in enumerate(row)])
+            lots = greatest_lots(order, [(i, 8 + i) for i in range(8)])
+            self.shown_whole(order, tolls, fewest(lots, list(tolls)))
 
     def test_knots_side_by_side(self):
         # Two rings of three far from one another, and a couple: each alone is paid while the others are.
@@ -180,8 +194,8 @@ class RefusalsTest(CostCase):
     def test_bounds(self):
         order = antichain(5)
         pairs = open_pairs(order)
-        self.assertEqual(whole_cost(order, Counts.at(pairs[:12], number=2)), len(whole_lines(
-            order, Counts.at(pairs[:12], number=2))))
+        tolls = Counts.at(pairs[:12], number=2)
+        self.assertEqual(whole_cost(order, tolls), len(whole_lines(order, tolls)))
         self.refused(TooMany(12), order, Counts.at(pairs[:13]))
         self.refused(TooMany(12), order, Counts.at(pairs[:13], number=2))
         self.refused(TooMany(24), order, Counts([(x, y, 2 if at else 3) for at, (x, y) in enumerate(pairs[:12])]))
