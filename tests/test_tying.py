@@ -215,6 +215,11 @@ class TieEndsTest(CostCase):
         pairs = all_pairs(order)
         self.fails(TooMany(30), tie_ends, order, Counts.at(pairs[:40]), 0, 1)
         self.fails(TooMany(5000), tie_ends, order, Counts.at(pairs[:30]), 0, 1)
+        # The pair (1, 0) is counted ahead of a look at the lower sets, even untolled.
+        others = [pair for pair in pairs if pair not in ((0, 1), (1, 0))]
+        self.fails(TooMany(30), tie_ends, order, Counts.at(others[:30]), 0, 1)
+        self.fails(TooMany(5000), tie_ends, order, Counts.at(others[:29]), 0, 1)
+        self.fails(TooMany(5000), tie_ends, order, Counts.at(others[:29] + [(1, 0)]), 0, 1)
         self.assertEqual(len(tie_ends(five_thousand_lower_sets(), Counts(), 0, 1)), 3)
 
 
