@@ -29,7 +29,8 @@ class Ladder:
         full = full_mask(len(self._needs))
         while level:
             wider = []
-            for mask in level:
+            # The next level grows in this loop and is called level behind it: so a list of its own is walked.
+            for mask in list(level):
                 for point in free_places(self._needs, full ^ mask):
                     grown = mask | (1 << point)
                     if grown not in reached:

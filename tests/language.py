@@ -7,6 +7,7 @@ import sys
 from pathlib import Path
 
 from tests.operators import faults_of
+from tests.walks import faults_in_walks
 
 LIBRARY = {"heapq": ("heappush", "heappop", "heapify", "heapreplace", "heappushpop"),
            "math": ("gcd", "lcm", "isqrt", "comb", "perm", "factorial")}
@@ -239,7 +240,7 @@ def faults_in(folder):
     """The list of what is wrong in the package folder."""
     reader = Reader(folder)
     reader.read_words()
-    return reader.faults + faults_of(reader.trees)
+    return reader.faults + faults_of(reader.trees) + faults_in_walks(reader.trees)
 
 
 if __name__ == "__main__":

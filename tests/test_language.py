@@ -56,6 +56,16 @@ WRONG = (
     ("L19", "def one():\n    try:\n        return 1\n    except TypeError:\n        return 2\n"),
     ("L19", "def one(error):\n    raise error\n"),
     ("L20", "def one(a, b):\n    return a is b\n"),
+    ("L23", "def one(rows):\n    for k in rows:\n        rows.append(k)\n"),
+    ("L23", "def one(rows):\n    for at, k in enumerate(rows):\n        rows[at] = k\n"),
+    ("L23", "def one(table):\n    for k, v in table.items():\n        del table[k]\n"),
+    ("L23", "def one(box, more):\n    for k in box.rows or more:\n        more.pop()\n"),
+    ("L23", "def one(box):\n    for k in box.rows:\n        box.rows += [k]\n"),
+    ("L23", "def one(rows):\n    return [rows.pop() for k in rows]\n"),
+    ("L23", "def one():\n    level = [0]\n    while level:\n        wider = []\n        for k in level:\n"
+            "            wider.append(k)\n        level = wider\n"),
+    ("L23", "def one(box):\n    held = box.rows\n    for k in held:\n        box.rows.append(k)\n"),
+    ("L23", "def one(rows, more):\n    a, b = rows, more if more else rows\n    for k in a:\n        b.append(k)\n"),
     ("L25", "def one(rows):\n    rows.sort()\n"),
     ("L27", "def one(n):\n    return 2 ** n\n"),
     ("L27", "A = 'a % b'\n"),
@@ -105,7 +115,12 @@ class LanguageTest(unittest.TestCase):
             "    def __add__(self, other):\n        both = list(self.rows)\n        both.append(other)\n"
             "        both[0] = 2\n        return Box(both)\n"
         )
-        for right in (source, box):
+        walks = (
+            '"""One."""\n\n\ndef one(rows):\n    found = []\n    for k in list(rows):\n        rows.append(k)\n'
+            "    for k in rows:\n        found.append(k)\n    level = rows\n    while level:\n        wider = []\n"
+            "        for k in list(level):\n            wider.append(k)\n        level = wider\n    return found\n"
+        )
+        for right in (source, box, walks):
             with tempfile.TemporaryDirectory() as place:
                 self.assertEqual(self.folder_with(place, {"one.py": right}), [])
 
