@@ -17,17 +17,25 @@ MOST_POINTS = 12
 MOST_LOTS = 60
 
 
-def _lots_told(value, points):
-    """Return the tuple of the different sets of points that a list or tuple tells, in the order told."""
+def _is_lot(value, points, size):
+    """Tell whether the value is a list or tuple of different points, of just so many if size is not None."""
+    if wrong_entry(value, lambda point: is_place(point, points)) is not None:
+        return False
+    return size is None or len(value) == size
+
+
+def lots_told(value, points, size):
+    """Return the tuple of the different sets of points that a list or tuple tells, in the order told.
+
+    Each must have just so many points if size is not None.
+    """
     if not isinstance(value, (list, tuple)):
         raise BadLots(-1)
     told = {}
     for at, entry in enumerate(value):
-        if wrong_entry(entry, lambda point: is_place(point, points)) is not None or tuple(sorted(entry)) in told:
+        if not _is_lot(entry, points, size) or tuple(sorted(entry)) in told:
             raise BadLots(at)
         told[tuple(sorted(entry))] = True
-    if len(told) > MOST_LOTS:
-        raise TooMany(MOST_LOTS)
     return tuple(list(told))
 
 
@@ -39,7 +47,9 @@ class Family:
 
     def __init__(self, points, lots):
         self.points = check_number(points, "points", 1, MOST_POINTS)
-        self.lots = _lots_told(lots, points)
+        self.lots = lots_told(lots, points, None)
+        if len(self.lots) > MOST_LOTS:
+            raise TooMany(MOST_LOTS)
         self.masks = tuple([mask_of(lot) for lot in self.lots])
 
     @property

@@ -16,14 +16,14 @@ def _holds_one(mask, masks):
     return False
 
 
-def _meeting_masks(order, pairs):
-    """Return the least meetings of a lot, each as a mask of the numbers of its pairs in the lot."""
+def meeting_masks(masks):
+    """Return the list of the least masks that have a bit of each of these masks."""
     found = [0]
-    for ring in ring_masks(order, pairs):
-        meeting = [mask for mask in found if mask & ring]
-        missing = [mask for mask in found if not mask & ring]
-        # None of the grown ones holds another one of them, since each has just one pair of the ring.
-        grown = [mask | (1 << at) for mask in missing for at in places_in(ring)]
+    for asked in masks:
+        meeting = [mask for mask in found if mask & asked]
+        missing = [mask for mask in found if not mask & asked]
+        # None of the grown ones holds another one of them, since each has just one bit of the mask asked.
+        grown = [mask | (1 << at) for mask in missing for at in places_in(asked)]
         found = meeting + [mask for mask in grown if not _holds_one(mask, meeting)]
     return found
 
@@ -37,19 +37,19 @@ def greatest_lots(order, lot):
     """Return the list of the turnable lots within the lot that lie in no greater one, ascending."""
     pairs = listed_lot(order, lot)
     full = full_mask(len(pairs))
-    return _told_by([full ^ mask for mask in _meeting_masks(order, pairs)], pairs)
+    return _told_by([full ^ mask for mask in meeting_masks(ring_masks(order, pairs))], pairs)
 
 
 def least_meetings(order, lot):
     """Return the list of all least meetings of the lot, ascending."""
     pairs = listed_lot(order, lot)
-    return _told_by(_meeting_masks(order, pairs), pairs)
+    return _told_by(meeting_masks(ring_masks(order, pairs)), pairs)
 
 
 def most_at_once(order, lot):
     """Return the greatest number of pairs of the lot that one line turns."""
     pairs = listed_lot(order, lot)
-    return len(pairs) - min([len(places_in(mask)) for mask in _meeting_masks(order, pairs)])
+    return len(pairs) - min([len(places_in(mask)) for mask in meeting_masks(ring_masks(order, pairs))])
 
 
 def standard_from(order, lot):

@@ -16,25 +16,33 @@ def is_at_least(value, least):
     return is_int(value) and value >= least
 
 
+def is_between(value, least, most):
+    """Tell whether a value of any kind is an integer from least to most; most None means without upper end."""
+    return is_at_least(value, least) and (most is None or value <= most)
+
+
 def check_number(value, name, least, most):
     """Return the value if it is an integer from least to most; most None means without upper end."""
-    if not is_at_least(value, least):
-        raise BadNumber(name)
-    if most is not None and value > most:
+    if not is_between(value, least, most):
         raise BadNumber(name)
     return value
 
 
-def rates_told(value, many, least):
-    """Return the tuple of so many integers that are not below least, which a list or tuple tells."""
+def rates_told(value, many, least, most=None):
+    """Return the tuple of so many integers from least to most, which a list or tuple tells; None as in check_number."""
     if not isinstance(value, (list, tuple)):
         raise BadRates(-1)
     for at, rate in enumerate(value):
-        if not is_at_least(rate, least):
+        if not is_between(rate, least, most):
             raise BadRates(at)
     if len(value) != many:
         raise BadRates(len(value))
     return tuple(value)
+
+
+def is_fraction(value):
+    """Tell whether a value of any kind is a tuple of two integers, the second one at least 1."""
+    return isinstance(value, tuple) and len(value) == 2 and is_int(value[0]) and is_at_least(value[1], 1)
 
 
 def lowest(top, bottom):

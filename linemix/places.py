@@ -47,3 +47,11 @@ def places_of(value, size):
 def couples_of(row):
     """Return the list of all tuples of two entries of a row, the one that stands ahead first."""
     return [(entry, other) for at, entry in enumerate(row) for other in row[at + 1:]]
+
+
+def sets_of(places, many):
+    """Return the list of all sets of so many of the places, which ascend, ascending."""
+    found = [()]
+    for _ in range(many):
+        found = [chosen + (place,) for chosen in found for place in places if not chosen or place > chosen[-1]]
+    return found

@@ -5,25 +5,29 @@ class Tableau:
     """As many lots as wants, with the numbers by which they give each want just its toll; all over one bottom.
 
     Row k of the grid holds the number of lot k, and behind it how this number changes with each toll. The row worths
-    holds the total, and behind it the weight of each want. The lot None stands for what one want gets too much.
+    holds the total, and behind it the weight of each want. The lot None stands for what one want gets too much. At the
+    beginning there is a lot of each want alone, of this price.
     """
 
-    def __init__(self, tolls):
+    def __init__(self, tolls, price):
         wants = range(len(tolls))
         self.bottom = 1
         self.basis = [(at,) for at in wants]
         self.grid = [[toll] + [1 if at == other else 0 for other in wants] for at, toll in enumerate(tolls)]
-        self.worths = [sum(tolls)] + [1] * len(tolls)
+        self.worths = [sum(tolls) * price] + [price] * len(tolls)
 
     def weights(self):
         """Return the weights of the wants."""
         return self.worths[1:]
 
-    def enter_lot(self, lot):
-        """Exchange some lot for this one, which weighs more than the bottom."""
+    def gain_of(self, lot, price):
+        """Return how much more the wants of a lot weigh than its price times the bottom."""
+        return sum([self.worths[at + 1] for at in lot]) - price * self.bottom
+
+    def enter_lot(self, lot, price):
+        """Exchange some lot for this one, whose gain is above 0."""
         column = [sum([row[at + 1] for at in lot]) for row in self.grid]
-        gain = sum([self.worths[at + 1] for at in lot]) - self.bottom
-        self._exchange(lot, column, gain)
+        self._exchange(lot, column, self.gain_of(lot, price))
 
     def give_back(self, want):
         """Exchange some lot for what this want, whose weight is below 0, gets too much."""
@@ -74,18 +78,27 @@ def least_mix(ladder, tolls):
     The lots are served by rows of the ladder, the numbers over the bottom are the cheapest ones that give each want its
     toll, and no row serves wants that weigh more than the bottom together.
     """
-    table = Tableau(tolls)
+    return priced_mix(ladder, tolls, 1, {})
+
+
+def priced_mix(ladder, tolls, price, prices):
+    """Return what least_mix does if prices tells what some lots cost each, at most the price that others cost.
+
+    Lots of one want alone may be told at this price that no row serves, if prices tells less of some that has the want.
+    """
+    table = Tableau(tolls, price)
     known = []
     while True:
         weights = table.weights()
         if min(weights) < 0:
             table.give_back(weights.index(min(weights)))
             continue
-        gains = [sum([weights[at] for at in lot]) for lot in known]
-        if max(gains, default=0) > table.bottom:
-            table.enter_lot(known[gains.index(max(gains))])
+        gains = [table.gain_of(lot, prices.get(lot, price)) for lot in known]
+        if max(gains, default=0) > 0:
+            best = known[gains.index(max(gains))]
+            table.enter_lot(best, prices.get(best, price))
             continue
-        found = [lot for weight, lot in ladder.rich_lots(weights) if weight > table.bottom]
+        found = [lot for weight, lot in ladder.rich_lots(weights) if weight > prices.get(lot, price) * table.bottom]
         if not found:
             numbers = [row[0] for row in table.grid]
             return table.bottom, [(lot, number) for lot, number in zip(table.basis, numbers) if lot and number], weights

@@ -6,6 +6,7 @@ import re
 import sys
 from pathlib import Path
 
+from tests.holds import faults_in_holds
 from tests.operators import faults_of
 from tests.walks import faults_in_walks
 
@@ -240,7 +241,8 @@ def faults_in(folder):
     """The list of what is wrong in the package folder."""
     reader = Reader(folder)
     reader.read_words()
-    return reader.faults + faults_of(reader.trees) + faults_in_walks(reader.trees)
+    trees = reader.trees
+    return reader.faults + faults_of(trees) + faults_in_walks(trees) + faults_in_holds(trees)
 
 
 if __name__ == "__main__":

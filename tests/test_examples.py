@@ -129,6 +129,61 @@ raises Unfit(x=0, y=1)
 >>> from linemix.walking import place_walk
 >>> place_walk(standard(3))
 [(0, (0, 1)), (1, (2, 1)), (2, (2, 1)), (3, (2, 1)), (4, (2, 1)), (5, (3, 1))]
+
+>>> from linemix.counts import Counts
+>>> from linemix.costs import cost
+>>> from linemix.quiets import quiet_cost
+>>> from linemix.rings import ring_around
+>>> from linemix.shapes import antichain
+>>> from linemix.shares import ring_cost
+>>> from linemix.twochains import dearest_couple
+>>> three = antichain(3)
+>>> ones = Counts.at(ring_around(three, (0, 1, 2)))
+>>> (dearest_couple(three, ones), quiet_cost(three, ones), ring_cost(three, ones), cost(three, ones))
+((1, ((0, 2),)), (1, 1), (3, 2), (3, 2))
+
+>>> from linemix.calms import corners
+>>> from linemix.leading import tight_pairs
+>>> from linemix.shapes import standard
+>>> corners(standard(3), tight_pairs(standard(3)))
+[(1, (0, 1, 1)), (1, (1, 0, 1)), (1, (1, 1, 0)), (2, (1, 1, 1))]
+
+>>> from linemix.evens import clear_line, even_place, mate
+>>> from linemix.orders import Order
+>>> order = Order(4, [(0, 2), (1, 2), (1, 3)])
+>>> line = clear_line(order)
+>>> (line, mate(order, line), even_place(order, 0), even_place(order, 1))
+((0, 1, 2, 3), (1, 3, 0, 2), (2, 1), (3, 2))
+
+>>> from linemix.odds import odd_bound, odd_round
+>>> from linemix.shapes import bent
+>>> (len(odd_round(bent())), odd_bound(bent()))
+(5, (5, 2))
+
+>>> from linemix.crowns import crown_cost, crown_line, crown_mix, crown_most
+>>> from linemix.turning import turns
+>>> line = crown_line(4, reach=1, turns=(0,))
+>>> (crown_cost(4, reach=1), crown_mix(4, reach=1).total, crown_most(1), turns(line, (1, 5)), turns(line, (1, 6)))
+((8, 3), (8, 3), 3, True, False)
+
+>>> from linemix.valuing import crown_for, is_value
+>>> (crown_for((8, 3)), crown_for((4, 1)), crown_for((2, 1)), is_value((3, 2)), is_value((6, 3)))
+((4, 1), (4, 0), None, False, True)
+
+>>> from linemix.families import family_cost
+>>> from linemix.pointlots import family_bound, full_circle, graph_family, ones_at
+>>> graph = graph_family(4, [(0, 1), (1, 2), (2, 0), (2, 3)])
+>>> (family_bound(graph), full_circle(graph), family_cost(graph, ones_at(graph)))
+(3, (0, 1, 2), (3, 1))
+
+>>> from linemix.costs import cost
+>>> from linemix.counts import Counts
+>>> from linemix.orders import Order
+>>> from linemix.separates import cut_cost, cut_line, cut_share, separate_steps
+>>> order = Order(4, [(0, 1), (2, 3)])
+>>> tolls = Counts([(0, 3, 1), (2, 1, 1)])
+>>> (separate_steps(order), cut_line(order, (0, 2)), cut_cost(order, tolls), cost(order, tolls), cut_share(5))
+((0, 1, 2, 3), None, (1, 1), (2, 1), (10, 3))
 """
 
 
@@ -145,7 +200,7 @@ def shown(source, names):
 class ExamplesTest(unittest.TestCase):
     def test_examples(self):
         examples = EXAMPLES.strip().split("\n\n")
-        self.assertEqual(len(examples), 20)
+        self.assertEqual(len(examples), 28)
         for example in examples:
             *statements, wanted = example.split("\n")
             *first, last = [line.removeprefix(">>> ") for line in statements]

@@ -103,6 +103,29 @@ FUNCTIONS = {
         "both_ties(order, tolls, u, v)", "untied_bound(order, tolls, u, v)",
     ),
     "walking": ("tie_walk(order, tolls)", "place_walk(order)"),
+    "shares": ("share_of(order, tolls, lot)", "dearest_ring(order, tolls)", "ring_cost(order, tolls)"),
+    "calms": ("corners(order, lot)", "is_calm(order, lot)", "breaking_tolls(order, lot)", "whole_corners(order, lot)"),
+    "twochains": ("dearest_couple(order, tolls)", "richest_quiet(order, weights)"),
+    "quiets": ("quiet_cost(order, tolls)", "quiet_paper(order, tolls)", "loud_quiet(order, lot)"),
+    "evens": (
+        "is_clear(order, line)", "mate(order, line)", "clear_line(order)", "even_mix(order)", "is_even(order, mix)",
+        "even_place(order, x)",
+    ),
+    "odds": ("odd_round(order)", "odd_bound(order)"),
+    "crowns": (
+        "crown_pairs(many, *, reach=0)", "crown_most(reach)", "crown_cost(many, *, reach=0)",
+        "crown_line(many, *, reach=0, start=0, turns=())", "crown_mix(many, *, reach=0)",
+        "crown_level_counts(many, tolls, *, reach=0)",
+    ),
+    "valuing": ("is_value(value)", "crown_for(value)"),
+    "pointlots": (
+        "lots_of_size(points, size)", "graph_family(points, edges)", "ones_at(family)", "family_bound(family)",
+        "full_circle(family)",
+    ),
+    "separates": (
+        "separate_steps(order)", "cut_lot(order, chosen)", "cut_line(order, chosen)", "cut_cost(order, tolls)",
+        "cut_paper(order, tolls)", "cut_worth(order, weights)", "cut_share(size)",
+    ),
 }
 
 NODE_METHODS = ("size_of(self)", "series_order(self)", "series_tolls(self)", "series_cost(self)", "words(self)")

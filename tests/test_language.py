@@ -11,7 +11,8 @@ LISTED = (
     "errors", "numbers", "places", "orders", "shapes", "lines", "swaps", "ties", "texts", "pairs", "leading", "turning",
     "rings", "lots", "chains", "counts", "mixes", "papers", "worths", "costs", "splits", "moving", "endless", "games",
     "wholes", "rowing", "families", "rates", "circles", "tworows", "filling", "putting", "series", "products", "commons",
-    "onemore", "widths", "tying", "walking",
+    "onemore", "widths", "tying", "walking", "shares", "calms", "twochains", "quiets", "evens", "odds", "crowns",
+    "valuing", "pointlots", "separates",
 )
 
 WRONG = (
@@ -66,6 +67,19 @@ WRONG = (
             "            wider.append(k)\n        level = wider\n"),
     ("L23", "def one(box):\n    held = box.rows\n    for k in held:\n        box.rows.append(k)\n"),
     ("L23", "def one(rows, more):\n    a, b = rows, more if more else rows\n    for k in a:\n        b.append(k)\n"),
+    ("L12", "def one(pair):\n    _, b = pair\n    return _\n"),
+    ("L22", "def one(rows):\n    return sorted(rows, default=1)\n"),
+    ("L22", "def one(rows):\n    return enumerate(rows, key=len)\n"),
+    ("L23", "def two(rows):\n    return rows\n\n\ndef one(k):\n    return two(range(k))\n"),
+    ("L23", "def one(a, b):\n    return zip(a, b)\n"),
+    ("L23", "def one(table):\n    rows = [table.items()]\n    return rows\n"),
+    ("L23", "def one(rows):\n    return len(enumerate(rows))\n"),
+    ("L23", "def one(rows, more):\n    return max(range(3), more)\n"),
+    ("L24", "def one(rows):\n    for k in set(rows):\n        return k\n"),
+    ("L24", "def one(rows):\n    return {k for k in rows}\n"),
+    ("L24", "def one(rows):\n    seen = set()\n    return seen\n"),
+    ("L24", "def one(rows):\n    seen = set()\n    seen = set(rows)\n    return len(seen)\n"),
+    ("L24", "def one(rows):\n    seen = set(rows)\n    seen.update(rows)\n    return len(seen)\n"),
     ("L25", "def one(rows):\n    rows.sort()\n"),
     ("L27", "def one(n):\n    return 2 ** n\n"),
     ("L27", "A = 'a % b'\n"),
@@ -120,7 +134,13 @@ class LanguageTest(unittest.TestCase):
             "    for k in rows:\n        found.append(k)\n    level = rows\n    while level:\n        wider = []\n"
             "        for k in list(level):\n            wider.append(k)\n        level = wider\n    return found\n"
         )
-        for right in (source, box, walks):
+        holds = (
+            '"""One."""\n\n\ndef one(rows, more):\n    seen = set()\n    places = range(len(rows))\n'
+            "    for at in places:\n        if at not in seen and more == list(range(at)):\n            seen.add(at)\n"
+            "    for a, b in zip(rows, enumerate(more)):\n        seen.discard(a)\n"
+            "    return sorted(seen), len(set(rows)), sorted({b for b in more}), max(range(3)), list(reversed(range(2)))\n"
+        )
+        for right in (source, box, walks, holds):
             with tempfile.TemporaryDirectory() as place:
                 self.assertEqual(self.folder_with(place, {"one.py": right}), [])
 

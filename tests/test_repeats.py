@@ -3,9 +3,10 @@
 import unittest
 
 from linemix import (
-    chains, circles, commons, costs, counts, endless, families, filling, games, leading, lines, lots, mixes, moving,
-    numbers, onemore, orders, pairs, papers, places, products, putting, rates, rings, rowing, series, shapes, splits, swaps,
-    texts, ties, turning, tworows, tying, walking, wholes, widths, worths,
+    calms, chains, circles, commons, costs, counts, crowns, endless, evens, families, filling, games, leading, lines, lots,
+    mixes, moving, numbers, odds, onemore, orders, pairs, papers, places, pointlots, products, putting, quiets, rates, rings,
+    rowing, separates, series, shapes, shares, splits, swaps, texts, ties, turning, twochains, tworows, tying, valuing,
+    walking, wholes, widths, worths,
 )
 from linemix.orders import Order
 from linemix.shapes import antichain, bent, chain, crown, standard
@@ -206,14 +207,54 @@ CALLS = (
     (tying.untied_bound, (ORDER, ONES, 1, 3)),
     (walking.tie_walk, (ORDER, ONES)),
     (walking.place_walk, (ORDER,)),
+    (shares.share_of, (ORDER, ONES, LOT)),
+    (shares.dearest_ring, (many_lines(), TOLLS)),
+    (shares.ring_cost, (many_lines(), TOLLS)),
+    (calms.corners, (antichain(3), RING)),
+    (calms.is_calm, (standard(3), ((2, 5), (0, 3), (1, 4)))),
+    (calms.breaking_tolls, (standard(3), ((2, 5), (0, 3), (1, 4)))),
+    (calms.whole_corners, (ORDER, LOT)),
+    (twochains.dearest_couple, (many_lines(), TOLLS)),
+    (twochains.richest_quiet, (many_lines(), TOLLS)),
+    (quiets.quiet_cost, (many_lines(), TOLLS)),
+    (quiets.quiet_paper, (many_lines(), TOLLS)),
+    (quiets.loud_quiet, (antichain(3), RING)),
+    (evens.is_clear, (ORDER, (1, 3, 0, 2))),
+    (evens.mate, (ORDER, (1, 3, 0, 2))),
+    (evens.clear_line, (many_lines(),)),
+    (evens.even_mix, (ORDER,)),
+    (evens.is_even, (ORDER, LINES)),
+    (evens.even_place, (ORDER, 1)),
+    (odds.odd_round, (bent(),)),
+    (odds.odd_bound, (bent(),)),
+    (crowns.crown_pairs, (5,)),
+    (crowns.crown_line, (5,)),
+    (crowns.crown_mix, (5,)),
+    (crowns.crown_level_counts, (5, (3,))),
+    (valuing.is_value, ((6, 3),)),
+    (valuing.crown_for, ((8, 3),)),
+    (pointlots.lots_of_size, (5, 2)),
+    (pointlots.graph_family, (4, ((1, 0), (2, 3)))),
+    (pointlots.ones_at, (FAMILY,)),
+    (pointlots.family_bound, (FAMILY,)),
+    (pointlots.full_circle, (FAMILY,)),
+    (separates.separate_steps, (many_lines(),)),
+    (separates.cut_lot, (ORDER, (3, 0))),
+    (separates.cut_line, (ORDER, (3, 0))),
+    (separates.cut_cost, (many_lines(), TOLLS)),
+    (separates.cut_paper, (many_lines(), TOLLS)),
+    (separates.cut_worth, (many_lines(), TOLLS)),
 )
+
+# A fraction is told by a tuple only.
+TUPLES = (valuing.is_value, valuing.crown_for)
 
 
 class RepeatsTest(Case):
     def test_lists_and_tuples(self):
         for call, args in CALLS:
             answer = self.told(call, *args)
-            self.assertEqual(self.told(call, *as_lists(args)), answer)
+            self.assertEqual(self.told(call, *(args if call in TUPLES else as_lists(args))), answer)
             self.assertEqual(call(*args), answer)
 
     def test_equal_counts_and_orders_made_otherwise(self):

@@ -7,28 +7,36 @@ import random
 import time
 import unittest
 
+from linemix.calms import corners, is_calm
 from linemix.circles import circles_in, level_parts, standard_in
 from linemix.chains import chain_cover, heaviest, high_line, loaded_cover, low_line, width
 from linemix.costs import best_mix, best_paper, cost, full_cost
 from linemix.counts import Counts
 from linemix.endless import endless
+from linemix.evens import clear_line, even_mix, is_even, mate
 from linemix.filling import closed_sets, fills, needed_places
 from linemix.families import family_cost, family_mix, family_worth, table_of
 from linemix.leading import tight_for, tight_pairs
 from linemix.lots import greatest_lots, least_meetings, most_against, most_at_once
 from linemix.mixes import Mix
 from linemix.moving import falls, moved_down
+from linemix.odds import odd_bound, odd_round
 from linemix.onemore import chain_bound, place_bound
 from linemix.orders import Order
 from linemix.pairs import all_pairs, is_quiet, open_pairs, sure_pairs
 from linemix.papers import Paper
 from linemix.putting import cross_counts, put_cost, put_in
+from linemix.pointlots import full_circle, lots_of_size, ones_at
+from linemix.quiets import loud_quiet, quiet_cost, quiet_paper
 from linemix.rings import is_turnable, least_rings, ring_in
 from linemix.rowing import row_cost, row_turns, row_worth
+from linemix.separates import cut_cost, cut_paper, cut_worth, separate_steps
 from linemix.series import is_series
-from linemix.shapes import antichain, bent, chain, standard
+from linemix.shapes import antichain, bent, chain, crown, standard
+from linemix.shares import dearest_ring, ring_cost, share_of
 from linemix.splits import split_tolls
 from linemix.turning import Turner, line_for
+from linemix.twochains import dearest_couple, richest_quiet
 from linemix.tying import both_ties, tie_ends
 from linemix.walking import place_walk, tie_walk
 from linemix.wholes import dimension, whole_lines
@@ -159,6 +167,37 @@ class SpeedTest(unittest.TestCase):
             self.quick([(place_walk, order)])
         for order in (standard(8), antichain(16), chain(16), many_lines()):
             self.quick([(fills, order, tuple(range(16))), (needed_places, order), (best_bound, order), (is_series, order)])
+
+    def test_thousands_of_calls_on_rings_and_shapes(self):
+        calls = []
+        for order in some_orders(60, 5, 6) + [antichain(6), bent(), standard(3)]:
+            for lot in some_lots(order, 12, 5):
+                calls += [(corners, order, lot), (is_calm, order, lot), (loud_quiet, order, lot)]
+            for tolls in few_counts(order, 6, 5, BIG) + few_counts(order, 6, 5, 3):
+                calls += [(call, order, tolls) for call in (
+                    dearest_ring, ring_cost, quiet_cost, quiet_paper, dearest_couple, richest_quiet, cut_cost, cut_worth)]
+            calls += [(call, order) for call in (clear_line, even_mix, odd_round, separate_steps)]
+        self.assertGreater(len(calls), 7000)
+        self.quick(calls)
+
+    def test_bounds_of_rings_and_shapes(self):
+        for order in (antichain(5), antichain(7), antichain(12), antichain(16), crown(6, reach=1), many_lines()):
+            for tolls in few_counts(order, 4, 12, BIG) + few_counts(order, 4, 12, 2):
+                lot = [(x, y) for x, y, _ in tolls]
+                self.quick([(call, order, tolls) for call in (ring_cost, quiet_cost, quiet_paper, richest_quiet)])
+                self.quick([(loud_quiet, order, lot), (share_of, order, tolls, lot)])
+            self.quick([(corners, order, lot) for lot in some_lots(order, 30, 5)])
+        for order in (antichain(16), chain(16), many_lines(), five_thousand_lower_sets(), standard(8), crown(8, reach=5),
+                      chain(8) + chain(8), chain(4) * chain(4), standard(3) + antichain(10)):
+            ones = Counts.ones(order)
+            self.quick([(clear_line, order), (odd_round, order), (separate_steps, order), (dearest_couple, order, ones)])
+            self.quick([(cut_worth, order, ones)])
+            for tolls in few_counts(order, 2, 30, BIG) + few_counts(order, 2, 30, 2):
+                self.quick([(cut_cost, order, tolls), (cut_paper, order, tolls)])
+        line = tuple(range(16))
+        rows = [(tuple(random.Random(at).sample(line, 16)), at + 1) for at in range(1000)]
+        self.quick([(mate, antichain(16), line), (is_even, antichain(16), Mix(BIG, rows)), (odd_bound, antichain(16))])
+        self.quick([(full_circle, lots_of_size(8, 3)), (ones_at, lots_of_size(8, 3)), (full_circle, lots_of_size(11, 2))])
 
     def test_mixes_of_many_lines(self):
         order = Order(16)
