@@ -7,7 +7,7 @@ from linemix.pairs import are_against, pair_in
 from linemix.ties import tied
 
 
-def _open_pair(order, tolls, pair):
+def open_pair(order, tolls, pair):
     """Return the open pair that is told, for tolls that fit the order."""
     check_fit(order, tolls)
     x, y = pair_in(order, pair)
@@ -18,14 +18,14 @@ def _open_pair(order, tolls, pair):
 
 def tolls_against(order, tolls, pair):
     """Return the tolls at the pairs that are against the open pair."""
-    told = _open_pair(order, tolls, pair)
+    told = open_pair(order, tolls, pair)
     # No sure pair is against another one.
     return Counts([(x, y, toll) for x, y, toll in tolls.rows if are_against(order, told, (x, y))])
 
 
 def beyond(order, tolls, pair):
     """Return the cost, with the open pair told by a step, of the tolls neither at it nor at pairs against it."""
-    x, y = _open_pair(order, tolls, pair)
+    x, y = open_pair(order, tolls, pair)
     beside = tied(order, (y, x))
     # The pairs against (x, y) are just those that are no pairs any more.
     return cost(beside, kept_on(beside, tolls.with_count(x, y, 0)))

@@ -5,20 +5,14 @@ from linemix.masks import full_mask, places_in
 from linemix.mixes import Mix, check_lines
 from linemix.numbers import lowest
 from linemix.odds import odd_round
-from linemix.pairs import open_pairs
+from linemix.pairs import open_masks, open_pairs
 from linemix.places import couples_of, place_of
 from linemix.turning import line_turning
 
 
-def _open_masks(order):
-    """Return for each place the mask of the places open to it."""
-    full = full_mask(order.size)
-    return [full ^ (1 << place) ^ order.aboves[place] ^ order.belows[place] for place in range(order.size)]
-
-
-def _stays_clear(order, open_masks, placed, place):
+def _stays_clear(order, opens, placed, place):
     """Tell whether a clear line may go on with the place behind those of the mask placed, whatever row these make."""
-    beside = open_masks[place]
+    beside = opens[place]
     ahead = beside & ~placed
     return all([not order.aboves[low] & ahead for low in places_in(beside & placed)])
 
@@ -26,10 +20,10 @@ def _stays_clear(order, open_masks, placed, place):
 def is_clear(order, line):
     """Tell whether no place stands in the line between the two places of a step to both of which it is open."""
     row = line_of(order, line)
-    open_masks = _open_masks(order)
+    opens = open_masks(order)
     placed = 0
     for place in row:
-        if not _stays_clear(order, open_masks, placed, place):
+        if not _stays_clear(order, opens, placed, place):
             return False
         placed = placed | (1 << place)
     return True
@@ -41,7 +35,7 @@ def mate(order, line):
     return line_turning(order, [(x, y) for x, y in open_pairs(order) if ranks[x] < ranks[y]])
 
 
-def _clear_end(order, open_masks, placed, failed):
+def _clear_end(order, opens, placed, failed):
     """Return the first row of all other places with which a clear line can go on behind those of the mask placed.
 
     The answer is None if there is none. failed collects the masks for which this was found.
@@ -52,8 +46,8 @@ def _clear_end(order, open_masks, placed, failed):
     if placed in failed:
         return None
     for place in free_places(order.belows, left):
-        if _stays_clear(order, open_masks, placed, place):
-            rest = _clear_end(order, open_masks, placed | (1 << place), failed)
+        if _stays_clear(order, opens, placed, place):
+            rest = _clear_end(order, opens, placed | (1 << place), failed)
             if rest is not None:
                 return (place,) + rest
     failed[placed] = True
@@ -65,7 +59,7 @@ def clear_line(order):
     # An odd round shows at once that there is none; else the search seldom leads astray.
     if odd_round(order) is not None:
         return None
-    return _clear_end(order, _open_masks(order), 0, {})
+    return _clear_end(order, open_masks(order), 0, {})
 
 
 def even_mix(order):

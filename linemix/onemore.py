@@ -20,7 +20,7 @@ def _others(order, places):
     return rest
 
 
-def _kept_at(tolls, rest):
+def counts_at(tolls, rest):
     """Return the tolls between these places, renumbered as the places are."""
     numbers = {place: at for at, place in enumerate(rest)}
     return Counts([(numbers[x], numbers[y], toll) for x, y, toll in tolls.rows if x in numbers and y in numbers])
@@ -28,7 +28,7 @@ def _kept_at(tolls, rest):
 
 def _cost_at(order, tolls, rest):
     """Return the cost of the tolls between these places."""
-    return cost(order.on(rest), _kept_at(tolls, rest))
+    return cost(order.on(rest), counts_at(tolls, rest))
 
 
 def without(order, chosen):
@@ -39,7 +39,7 @@ def without(order, chosen):
 def tolls_without(order, tolls, chosen):
     """Return the tolls without a set of places."""
     check_fit(order, tolls)
-    return _kept_at(tolls, _others(order, places_of(chosen, order.size)))
+    return counts_at(tolls, _others(order, places_of(chosen, order.size)))
 
 
 def _greatest_over(tolls, x):

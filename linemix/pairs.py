@@ -1,6 +1,7 @@
 """Pairs of an order, lots of them, and which pairs are against one another."""
 
 from linemix.errors import BadPair
+from linemix.masks import full_mask
 from linemix.places import couples_of, is_place
 
 
@@ -44,6 +45,12 @@ def lot_of(order, value):
             raise BadPair(at)
         seen.add(tuple(entry))
     return tuple(sorted(seen))
+
+
+def open_masks(order):
+    """Return for each place the mask of the places open to it."""
+    full = full_mask(order.size)
+    return [full ^ (1 << place) ^ order.aboves[place] ^ order.belows[place] for place in range(order.size)]
 
 
 def all_pairs(order):

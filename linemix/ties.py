@@ -38,13 +38,18 @@ def single_ties(order):
     return tuple([(low, high) for low in places for high in places if _is_single(order, low, high)])
 
 
-def tie_path(order, other):
-    """Return a list of ties that lead from order to other, each one single where it is added."""
+def check_held(order, other):
+    """Raise OtherSize or NotHeld unless the other order has the same places and all steps of this one."""
     if other.size != order.size:
         raise OtherSize(other.size)
     for low, high in order.steps_told():
         if (low, high) not in other:
             raise NotHeld(low, high)
+
+
+def tie_path(order, other):
+    """Return a list of ties that lead from order to other, each one single where it is added."""
+    check_held(order, other)
     path = []
     reached = order
     while reached != other:

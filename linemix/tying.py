@@ -1,11 +1,12 @@
 """What costs become if an open couple is tied, or a next step is taken back."""
 
-from linemix.costs import MOST_TOLLED, best_paper, cost
+from linemix.costs import MOST_TOLLED, cost
 from linemix.counts import check_fit, kept_on
 from linemix.errors import TooMany
+from linemix.faces import share_reached
 from linemix.lines import line_of
 from linemix.mixes import Mix, check_lines
-from linemix.numbers import add_up, lowest, scaled
+from linemix.numbers import add_up, scaled
 from linemix.pairs import reaches
 from linemix.ties import check_open, tied, untied
 
@@ -46,21 +47,6 @@ def tie_mix(order, u, v, mix):
     return Mix(mix.bottom, rows)
 
 
-def _greatest_share(order, tolls, pair):
-    """Return the greatest share of an open pair in best mixes."""
-    least = cost(order, tolls)
-    share = least
-    while True:
-        # No best mix has more than this share. It is reached if asking for it costs no more, else a best paper for
-        # such tolls shows a lesser share.
-        raised = (tolls * share[1]).with_count(pair[0], pair[1], share[0])
-        paper = best_paper(order, raised)
-        if paper.value_at(raised) == scaled(least, share[1]):
-            return share
-        rest = paper.counts.with_count(pair[0], pair[1], 0).product_sum(tolls)
-        share = lowest(least[0] * paper.bottom - rest * least[1], least[1] * paper.counts[pair])
-
-
 def tie_ends(order, tolls, u, v):
     """Return the cost in the order, that with u below v, and twice the first less the greatest share of (v, u)."""
     check_fit(order, tolls)
@@ -70,18 +56,24 @@ def tie_ends(order, tolls, u, v):
     if len(kept.with_count(v, u, 1)) > MOST_TOLLED:
         raise TooMany(MOST_TOLLED)
     least = cost(order, kept)
-    top, bottom = _greatest_share(order, kept, (v, u))
+    top, bottom = share_reached(order, kept, (v, u))
     return least, cost(beside, kept), add_up(scaled(least, 2), (-top, bottom))
+
+
+def three_costs(order, tolls, x, y):
+    """Return the costs in the order, with x below y, and with y below x, of the tolls kept on both; x and y are open.
+    """
+    first = tied(order, (x, y))
+    second = tied(order, (y, x))
+    kept = kept_on(second, kept_on(first, tolls))
+    return cost(order, kept), cost(first, kept), cost(second, kept)
 
 
 def both_ties(order, tolls, u, v):
     """Return the costs in the order, with u below v, and with v below u, of the tolls kept on both."""
     check_fit(order, tolls)
     check_open(order, u, v, NAMES)
-    first = tied(order, (u, v))
-    second = tied(order, (v, u))
-    kept = kept_on(second, kept_on(first, tolls))
-    return cost(order, kept), cost(first, kept), cost(second, kept)
+    return three_costs(order, tolls, u, v)
 
 
 def untied_bound(order, tolls, u, v):

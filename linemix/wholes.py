@@ -12,14 +12,13 @@ MOST_TOLLED = 12
 MOST_IN_ALL = 24
 
 
-def _check_whole(order, tolls):
+def check_few(order, tolls):
     """Raise an error unless the tolls fit the order and are few and small enough for a whole cost."""
     check_fit(order, tolls)
     if len(tolls) > MOST_TOLLED:
         raise TooMany(MOST_TOLLED)
     if tolls.total_count() > MOST_IN_ALL:
         raise TooMany(MOST_IN_ALL)
-    check_lower_sets(order)
 
 
 def _fewest_lots(order, tolls, knot):
@@ -36,7 +35,8 @@ def _fewest_lots(order, tolls, knot):
 
 def _knots_paid(order, tolls):
     """Return for each knot of the tolled pairs a list of lots that pays it, as short as can be."""
-    _check_whole(order, tolls)
+    check_few(order, tolls)
+    check_lower_sets(order)
     knots = knots_of(order.belows, wants_of(order, tolls), [toll for _, _, toll in tolls.rows])
     return [_fewest_lots(order, tolls, knot) for knot in knots]
 

@@ -48,6 +48,35 @@ def plain_least(lots, counts):
                       [[int((x, y) in lot) for x, y, _ in rows] for lot in greatest], [1] * len(greatest))
 
 
+# So great that no sum of a few numbers met in the tests makes up for one part of a whole cost.
+GREAT = 10 ** 15
+
+
+def plain_papers(order, rows, bounds=None):
+    """The greatest sum of numbers times weights, for rows (x, y, number), by which no line earns more than its bound.
+
+    bounds tells a number for a line, 1 if it is None. So for tolls and bounds of 1 this is the cost.
+    """
+    lines = plain_lines(order)
+    marks = [{place: at for at, place in enumerate(line)} for line in lines]
+    turned = [[int(mark[x] > mark[y]) for x, y, _ in rows] for mark in marks]
+    asked = [Fraction(1) if bounds is None else Fraction(bounds(line)) for line in lines]
+    if not rows:
+        return Fraction(0)
+    # Of lines that turn the same pairs the one with the least bound is enough.
+    least = {}
+    for row, bound in zip(turned, asked):
+        least[tuple(row)] = min(bound, least.get(tuple(row), bound))
+    return plain_most([number for _, _, number in rows], list(least), list(least.values()))
+
+
+def plain_shift(order, tolls, changes):
+    """The greatest sum of weights at pairs times these changes, a dict, in best papers for the tolls."""
+    pairs = {(x, y): 0 for x, y in changes} | {(x, y): number for x, y, number in tolls}
+    near = [(x, y, number * GREAT + changes.get((x, y), 0)) for (x, y), number in sorted(pairs.items())]
+    return plain_papers(order, near) - GREAT * plain_papers(order, list(tolls))
+
+
 def plain_against(order, pair, other):
     """Whether two pairs are against one another, by the words of [17]."""
     return order.is_under(pair[0], other[1]) and order.is_under(other[0], pair[1])

@@ -7,6 +7,7 @@ from itertools import combinations, permutations
 
 from linemix.costs import best_mix, best_paper, cost
 from linemix.counts import Counts
+from linemix.desks import Desk
 from linemix.families import Family
 from linemix.lines import is_line
 from linemix.mixes import Mix
@@ -16,8 +17,9 @@ from linemix.papers import Paper
 from linemix.series import Above, Beside, Leaf, Node
 from linemix.shapes import antichain, chain
 from linemix.turning import Turner
+from linemix.unseen import Notes
 
-CLASSES = (Order, Counts, Mix, Paper, Turner, Family, Leaf, Above, Beside)
+CLASSES = (Order, Counts, Mix, Paper, Turner, Family, Leaf, Above, Beside, Notes, Desk)
 NO_LISTS = (None, 1, True, "0123", {0}, {0: 1}, range(4))
 ORDER = Order(4, [(0, 2), (1, 2), (1, 3)])
 # What is no pair of ORDER: of another form, with what is no place, of one place, or with x below y.
@@ -43,8 +45,8 @@ def held_by(call, args, named):
 
 
 def node_free(value):
-    """The value with each node in it replaced by what it holds: nodes are equal to nothing but themselves."""
-    if isinstance(value, Node):
+    """The value with each node and desk in it replaced by what it holds: they are equal to nothing but themselves."""
+    if isinstance(value, (Node, Desk)):
         return type(value).__name__, node_free(vars(value))
     if isinstance(value, (list, tuple)):
         return type(value)([node_free(entry) for entry in value])

@@ -85,6 +85,53 @@ raises Unfit(x=0, y=1)
 >>> [closed_sets(antichain(2)), place_in(antichain(2), 1)]
 [[(), (0,), (1,), (0, 1)], 2]
 
+>>> from linemix.bests import in_best
+>>> from linemix.counts import Counts
+>>> from linemix.means import mean_ends
+>>> from linemix.rises import cost_at, critical_toll, greatest_share, rise
+>>> from linemix.shapes import antichain
+>>> order = antichain(3)
+>>> tolls = Counts([(1, 0, 1), (1, 2, 2), (2, 0, 1)])
+>>> [cost_at(order, tolls, (0, 1), 1), cost_at(order, tolls, (0, 1), 2), critical_toll(order, tolls, (0, 1))]
+[(2, 1), (3, 1), (1, 1)]
+>>> [rise(order, tolls, (1, 2)), rise(order, tolls, (1, 0)), greatest_share(order, tolls, (1, 0))]
+[(1, 1), (0, 1), (2, 1)]
+>>> [in_best(order, tolls, (2, 1, 0)), in_best(order, tolls, (0, 1, 2)), mean_ends(order, tolls, 1)]
+[True, False, ((5, 2), (3, 1))]
+
+>>> from linemix.costs import tight_ones
+>>> from linemix.many import least_times, whole_many
+>>> from linemix.shapes import bent, crown
+>>> from linemix.symmetries import exchanged_cost, renamings
+>>> ones = tight_ones(bent())
+>>> [whole_many(bent(), ones, 1), whole_many(bent(), ones, 2), least_times(bent(), ones)]
+[3, 5, 2]
+>>> [len(renamings(crown(4, reach=1))), exchanged_cost(crown(4, reach=1))]
+[8, (8, 3)]
+
+>>> from linemix.counts import Counts
+>>> from linemix.desks import Desk
+>>> from linemix.listings import count_line, listing
+>>> from linemix.orders import Order
+>>> desk = Desk(Order(3, [(0, 1)]), tolls=Counts([(2, 0, 1), (1, 2, 3)]))
+>>> [desk.cost_now(), desk.tie(1, 2), desk.back(), desk.deeds_done]
+[(3, 1), (1, 1), (3, 1), 0]
+>>> desk.trial(("set_toll", 2, 1, 2), ("put_place", [1], []), ("back",), ("back",))
+[(5, 1), (5, 1), (5, 1), (3, 1)]
+>>> [count_line(2, 0, 1500), listing(desk).split("\\n")[3]]
+['    2 over 0        1,500', 'tolls                   2']
+
+>>> from linemix.between import cost_ends, orders_between
+>>> from linemix.shapes import antichain, chain
+>>> from linemix.unseen import Notes, cost_stretch, line_regret, richest_everywhere
+>>> notes = Notes(Counts([(0, 1, 1)]), Counts([(0, 1, 3), (1, 0, 2)]))
+>>> [cost_stretch(antichain(2), notes), line_regret(antichain(2), (1, 0), notes)]
+[((1, 1), (5, 1)), (1, (0, 1))]
+>>> [line_regret(antichain(2), (0, 1), notes), richest_everywhere(antichain(2), notes)]
+[(3, (1, 0)), None]
+>>> [len(orders_between(antichain(3), chain(3))), cost_ends(antichain(3), chain(3), Counts([(1, 0, 2), (2, 1, 1)]))]
+[7, ((2, 1), (2, 1))]
+
 >>> from linemix.shapes import antichain, chain
 >>> from linemix.counts import Counts
 >>> from linemix.putting import cross_counts, put_cost
@@ -200,13 +247,25 @@ def shown(source, names):
 class ExamplesTest(unittest.TestCase):
     def test_examples(self):
         examples = EXAMPLES.strip().split("\n\n")
-        self.assertEqual(len(examples), 28)
-        for example in examples:
-            *statements, wanted = example.split("\n")
-            *first, last = [line.removeprefix(">>> ") for line in statements]
-            names = {}
-            exec("\n".join(first), names)
-            self.assertIn(wanted, shown(last, names))
+        self.assertEqual(len(examples), 32)
+        # The last one names Counts as the one ahead of it has imported it: so all share their names.
+        names = {}
+        self.assertEqual(sum([self.answers_in(example, names) for example in examples]), 39)
+
+    def answers_in(self, example, names):
+        """Run an example and compare each answer; the number of its answers."""
+        answers = 0
+        rows = example.split("\n")
+        for row, after in zip(rows, rows[1:] + [">>> "]):
+            statement = row.removeprefix(">>> ")
+            if row == statement:
+                continue
+            if after.startswith(">>> "):
+                exec(statement, names)
+            else:
+                self.assertIn(after, shown(statement, names))
+                answers += 1
+        return answers
 
 
 if __name__ == "__main__":

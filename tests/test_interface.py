@@ -126,6 +126,35 @@ FUNCTIONS = {
         "separate_steps(order)", "cut_lot(order, chosen)", "cut_line(order, chosen)", "cut_cost(order, tolls)",
         "cut_paper(order, tolls)", "cut_worth(order, weights)", "cut_share(size)",
     ),
+    "levels": (
+        "beside_step(order)", "levels_of(order)", "level_cost(order, tolls)", "is_forest(order)", "tree_line(order)",
+    ),
+    "bests": (
+        "is_best_mix(order, tolls, mix)", "is_best_paper(order, tolls, paper)", "least_fullness(order, tolls, line)",
+        "in_best(order, tolls, line)", "met_just(order, tolls, pair)", "halfway(one, other)",
+    ),
+    "rises": (
+        "cost_at(order, tolls, pair, toll)", "rise(order, tolls, pair)", "drop(order, tolls, pair)",
+        "greatest_share(order, tolls, pair)", "least_share(order, tolls, pair)", "critical_toll(order, tolls, pair)",
+        "share_mix(order, tolls, pair, *, least=False)",
+    ),
+    "means": ("mean_place(mix, x)", "mean_mix(order, tolls, x, *, least=False)", "mean_ends(order, tolls, x)"),
+    "symmetries": (
+        "renamings(order)", "renamed_counts(counts, row)", "renamed_mix(mix, row)", "keeping(order, tolls)",
+        "averaged(order, tolls, mix)", "averaged_paper(order, tolls, paper)", "are_exchangeable(order, lot)",
+        "exchanged_cost(order)",
+    ),
+    "many": ("whole_many(order, tolls, many)", "least_times(order, tolls)", "greedy_bound(order)"),
+    "between": (
+        "cost_ends(low_order, high_order, tolls)", "worth_ends(low_order, high_order, weights)",
+        "is_settled(low_order, high_order, tolls)", "orders_between(low_order, high_order)",
+        "three_worlds(order, tolls, x, y)",
+    ),
+    "unseen": (
+        "cost_stretch(order, notes)", "tolls_costing(order, notes, fraction)", "best_everywhere(order, paper, notes)",
+        "line_regret(order, line, notes)", "richest_everywhere(order, notes)",
+    ),
+    "listings": ("count_line(x, y, number)", "listing(desk)"),
 }
 
 NODE_METHODS = ("size_of(self)", "series_order(self)", "series_tolls(self)", "series_cost(self)", "words(self)")
@@ -153,6 +182,21 @@ CLASSES = {
     "series.Leaf": NODE_METHODS,
     "series.Above": ("__init__(self, *nodes, toll=0)",) + NODE_METHODS,
     "series.Beside": ("__init__(self, first, second, *, over=0, back=0)",) + NODE_METHODS,
+    "unseen.Notes": (
+        "__init__(self, lows, highs)", "agrees(self, counts)", "is_seen(self, x, y)", "unseen_pairs(self)",
+        "with_seen(self, x, y, number)", "corner_counts(self, chosen)",
+    ),
+    "desks.Desk": (
+        "__init__(self, order, *, tolls=None, weights=None)", "tie(self, x, y)", "untie(self, x, y)",
+        "put_place(self, below, above)", "drop_place(self, x)", "set_toll(self, x, y, number)",
+        "set_weight(self, x, y, number)", "put_part(self, x, part)", "add_ends(self)", "turn(self)", "fill(self)",
+        "back(self)", "cost_now(self)", "worth_now(self)", "full_now(self)", "mix_now(self)", "paper_now(self)",
+        "whole_now(self)", "tight_now(self)", "is_even_now(self)", "bounds_now(self)", "trial(self, *deeds)",
+    ),
+    "desks.Trial": (
+        "__init__(self, desk)", "begin(self)", "keep(self)", "finish(self)", "__enter__(self)",
+        "__exit__(self, kind, value, trace)",
+    ),
 }
 MADE = {"ones": "(order)", "at": "(lot, *, number=1)"}
 
@@ -214,16 +258,20 @@ class InterfaceTest(unittest.TestCase):
     def test_properties_and_class_methods(self):
         self.assertIs(type(vars(importlib.import_module("linemix.mixes").Mix)["total"]), property)
         self.assertIs(type(vars(importlib.import_module("linemix.families").Family)["many"]), property)
+        for name in ("now", "tolls_now", "weights_now", "deeds_done"):
+            self.assertIs(type(vars(importlib.import_module("linemix.desks").Desk)[name]), property)
         counts = importlib.import_module("linemix.counts").Counts
         for name, told in MADE.items():
             self.assertIs(type(vars(counts)[name]), classmethod)
             self.assertEqual(str(inspect.signature(vars(counts)[name].__get__(None, counts))), told)
 
     def test_attributes_are_set_on_each_object(self):
-        turning, mixes, papers, shapes, counts, families = [
+        turning, mixes, papers, shapes, counts, families, unseen, desks = [
             importlib.import_module(f"linemix.{name}")
-            for name in ("turning", "mixes", "papers", "shapes", "counts", "families")
+            for name in ("turning", "mixes", "papers", "shapes", "counts", "families", "unseen", "desks")
         ]
+        self.assertLessEqual({"lows", "highs"}, set(vars(unseen.Notes(counts.Counts(), counts.Counts()))))
+        self.assertIn("desk", vars(desks.Trial(desks.Desk(shapes.chain(2)))))
         self.assertLessEqual({"points", "lots"}, set(vars(families.Family(1, []))))
         self.assertIn("order", vars(turning.Turner(shapes.chain(2))))
         self.assertIn("bottom", vars(mixes.Mix(1, ())))

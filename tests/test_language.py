@@ -12,7 +12,8 @@ LISTED = (
     "rings", "lots", "chains", "counts", "mixes", "papers", "worths", "costs", "splits", "moving", "endless", "games",
     "wholes", "rowing", "families", "rates", "circles", "tworows", "filling", "putting", "series", "products", "commons",
     "onemore", "widths", "tying", "walking", "shares", "calms", "twochains", "quiets", "evens", "odds", "crowns",
-    "valuing", "pointlots", "separates",
+    "valuing", "pointlots", "separates", "levels", "bests", "rises", "means", "symmetries", "many", "between", "unseen",
+    "desks", "listings",
 )
 
 WRONG = (

@@ -3,10 +3,10 @@
 import unittest
 
 from linemix import (
-    calms, chains, circles, commons, costs, counts, crowns, endless, evens, families, filling, games, leading, lines, lots,
-    mixes, moving, numbers, odds, onemore, orders, pairs, papers, places, pointlots, products, putting, quiets, rates, rings,
-    rowing, separates, series, shapes, shares, splits, swaps, texts, ties, turning, twochains, tworows, tying, valuing,
-    walking, wholes, widths, worths,
+    bests, between, calms, chains, circles, commons, costs, counts, crowns, desks, endless, evens, families, filling, games,
+    leading, levels, lines, listings, lots, many, means, mixes, moving, numbers, odds, onemore, orders, pairs, papers, places,
+    pointlots, products, putting, quiets, rates, rings, rises, rowing, separates, series, shapes, shares, splits, swaps,
+    symmetries, texts, ties, turning, twochains, tworows, tying, unseen, valuing, walking, wholes, widths, worths,
 )
 from linemix.orders import Order
 from linemix.shapes import antichain, bent, chain, crown, standard
@@ -26,6 +26,8 @@ INNER = (counts.Counts(((1, 0, 2),)), counts.Counts(((0, 1, 1), (1, 0, 3))), cou
 MIX_OF_TWO = mixes.Mix(2, (((0, 1), 1), ((1, 0), 4)))
 LINES = mixes.Mix(3, (((0, 1, 2, 3), 2), ((1, 3, 0, 2), 5)))
 NODE = series.Above(series.Leaf(), series.Beside(series.Leaf(), series.Leaf(), over=2, back=1), toll=4)
+NOTES = unseen.Notes(ONES, ONES + counts.Counts(((2, 3, 2), (1, 0, 1))))
+DESK = desks.Desk(ORDER, tolls=ONES, weights=ONES)
 AT_POINTS = counts.Counts(((0, 2, 1), (1, 1, 2), (2, 0, 3), (1, 3, 1)))
 
 CALLS = (
@@ -244,10 +246,70 @@ CALLS = (
     (separates.cut_cost, (many_lines(), TOLLS)),
     (separates.cut_paper, (many_lines(), TOLLS)),
     (separates.cut_worth, (many_lines(), TOLLS)),
+    (levels.beside_step, (ORDER,)),
+    (levels.levels_of, (shapes.stacked((1, 3, 2)),)),
+    (levels.level_cost, (antichain(4), ONES)),
+    (levels.is_forest, (ORDER,)),
+    (levels.tree_line, (many_lines(),)),
+    (bests.is_best_mix, (ORDER, ONES, LINES)),
+    (bests.is_best_paper, (ORDER, ONES, papers.Paper(1, ONES))),
+    (bests.least_fullness, (ORDER, ONES, (1, 3, 0, 2))),
+    (bests.in_best, (ORDER, ONES, (1, 3, 0, 2))),
+    (bests.met_just, (ORDER, ONES, (0, 3))),
+    (bests.halfway, (LINES, LINES)),
+    (rises.cost_at, (ORDER, ONES, (0, 3), 5)),
+    (rises.rise, (many_lines(), TOLLS, (0, 15))),
+    (rises.drop, (many_lines(), TOLLS, (0, 15))),
+    (rises.greatest_share, (many_lines(), TOLLS, (0, 15))),
+    (rises.least_share, (many_lines(), TOLLS, (0, 15))),
+    (rises.critical_toll, (many_lines(), TOLLS, (0, 15))),
+    (rises.share_mix, (many_lines(), TOLLS, (0, 15))),
+    (means.mean_place, (MIX, 1)),
+    (means.mean_mix, (many_lines(), TOLLS, 3)),
+    (means.mean_ends, (many_lines(), TOLLS, 3)),
+    (symmetries.renamings, (ORDER,)),
+    (symmetries.renamed_counts, (ONES, (1, 0, 3, 2))),
+    (symmetries.renamed_mix, (LINES, (1, 0, 3, 2))),
+    (symmetries.keeping, (many_lines(), TOLLS)),
+    (symmetries.averaged, (ORDER, ONES, LINES)),
+    (symmetries.averaged_paper, (ORDER, ONES, papers.Paper(3, ONES))),
+    (symmetries.are_exchangeable, (ORDER, LOT)),
+    (symmetries.exchanged_cost, (crown(4, reach=1),)),
+    (many.whole_many, (ORDER, ONES, 3)),
+    (many.least_times, (ORDER, ONES)),
+    (many.greedy_bound, (bent(),)),
+    (between.cost_ends, (antichain(4), ORDER, ONES)),
+    (between.worth_ends, (antichain(4), ORDER, ONES)),
+    (between.is_settled, (antichain(4), ORDER, ONES)),
+    (between.orders_between, (antichain(4), ORDER)),
+    (between.three_worlds, (ORDER, ONES, 0, 3)),
+    (unseen.Notes, (ONES, ONES)),
+    (NOTES.agrees, (ONES,)),
+    (NOTES.is_seen, (0, 3)),
+    (NOTES.unseen_pairs, ()),
+    (NOTES.with_seen, (2, 3, 1)),
+    (NOTES.corner_counts, (((2, 3), (1, 0)),)),
+    (unseen.cost_stretch, (ORDER, NOTES)),
+    (unseen.tolls_costing, (ORDER, NOTES, (5, 2))),
+    (unseen.best_everywhere, (ORDER, papers.Paper(1, ONES), NOTES)),
+    (unseen.line_regret, (ORDER, (1, 3, 0, 2), NOTES)),
+    (unseen.richest_everywhere, (ORDER, NOTES)),
+    (DESK.cost_now, ()),
+    (DESK.worth_now, ()),
+    (DESK.full_now, ()),
+    (DESK.mix_now, ()),
+    (DESK.paper_now, ()),
+    (DESK.whole_now, ()),
+    (DESK.tight_now, ()),
+    (DESK.is_even_now, ()),
+    (DESK.bounds_now, ()),
+    (DESK.trial, (("turn",), ("put_place", (1,), ()), ("put_part", 0, chain(2)), ("back",))),
+    (listings.count_line, (3, 12, 10 ** 30)),
+    (listings.listing, (DESK,)),
 )
 
 # A fraction is told by a tuple only.
-TUPLES = (valuing.is_value, valuing.crown_for)
+TUPLES = (valuing.is_value, valuing.crown_for, unseen.tolls_costing)
 
 
 class RepeatsTest(Case):

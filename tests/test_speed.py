@@ -7,17 +7,25 @@ import random
 import time
 import unittest
 
+from linemix.bests import in_best, is_best_mix, is_best_paper, least_fullness, met_just
+from linemix.between import cost_ends, orders_between, three_worlds
 from linemix.calms import corners, is_calm
 from linemix.circles import circles_in, level_parts, standard_in
 from linemix.chains import chain_cover, heaviest, high_line, loaded_cover, low_line, width
 from linemix.costs import best_mix, best_paper, cost, full_cost
 from linemix.counts import Counts
+from linemix.desks import Desk
 from linemix.endless import endless
 from linemix.evens import clear_line, even_mix, is_even, mate
 from linemix.filling import closed_sets, fills, needed_places
 from linemix.families import family_cost, family_mix, family_worth, table_of
 from linemix.leading import tight_for, tight_pairs
+from linemix.levels import level_cost, tree_line
+from linemix.lines import lines_of
+from linemix.listings import listing
 from linemix.lots import greatest_lots, least_meetings, most_against, most_at_once
+from linemix.many import greedy_bound, least_times, whole_many
+from linemix.means import mean_ends, mean_mix
 from linemix.mixes import Mix
 from linemix.moving import falls, moved_down
 from linemix.odds import odd_bound, odd_round
@@ -29,22 +37,25 @@ from linemix.putting import cross_counts, put_cost, put_in
 from linemix.pointlots import full_circle, lots_of_size, ones_at
 from linemix.quiets import loud_quiet, quiet_cost, quiet_paper
 from linemix.rings import is_turnable, least_rings, ring_in
+from linemix.rises import critical_toll, drop, greatest_share, least_share, rise, share_mix
 from linemix.rowing import row_cost, row_turns, row_worth
 from linemix.separates import cut_cost, cut_paper, cut_worth, separate_steps
 from linemix.series import is_series
 from linemix.shapes import antichain, bent, chain, crown, standard
 from linemix.shares import dearest_ring, ring_cost, share_of
 from linemix.splits import split_tolls
+from linemix.symmetries import averaged, averaged_paper, exchanged_cost, keeping, renamings
 from linemix.turning import Turner, line_for
 from linemix.twochains import dearest_couple, richest_quiet
 from linemix.tying import both_ties, tie_ends
+from linemix.unseen import Notes, best_everywhere, cost_stretch, line_regret, richest_everywhere, tolls_costing
 from linemix.walking import place_walk, tie_walk
 from linemix.wholes import dimension, whole_lines
 from linemix.widths import best_bound, is_standard, load_bound, load_mix
 from linemix.worths import richest, worth
 from tests.families_support import point_counts, sixty_lots, some_families
 from tests.support import (
-    few_counts, five_thousand_lower_sets, many_lines, some_counts, some_lots, some_orders,
+    few_counts, five_thousand_lower_sets, many_lines, some_counts, some_lots, some_orders, thousand_lines,
 )
 
 LIMIT = 30
@@ -198,6 +209,68 @@ class SpeedTest(unittest.TestCase):
         rows = [(tuple(random.Random(at).sample(line, 16)), at + 1) for at in range(1000)]
         self.quick([(mate, antichain(16), line), (is_even, antichain(16), Mix(BIG, rows)), (odd_bound, antichain(16))])
         self.quick([(full_circle, lots_of_size(8, 3)), (ones_at, lots_of_size(8, 3)), (full_circle, lots_of_size(11, 2))])
+
+    def test_hundreds_of_calls_on_best_mixes(self):
+        calls = []
+        for order in some_orders(40, 4, 5) + [antichain(5)]:
+            line = lines_of(order, first=1)[0]
+            for tolls in few_counts(order, 4, 4, BIG) + few_counts(order, 4, 4, 3):
+                mix, paper = best_mix(order, tolls), best_paper(order, tolls)
+                calls += [(is_best_mix, order, tolls, mix), (is_best_paper, order, tolls, paper)]
+                calls += [(least_fullness, order, tolls, line), (in_best, order, tolls, line)]
+                calls += [(mean_ends, order, tolls, 0), (mean_mix, order, tolls, 1), (averaged, order, tolls, mix)]
+                notes = Notes(tolls, tolls * 3)
+                calls += [(cost_stretch, order, notes), (line_regret, order, line, notes)]
+                calls += [(best_everywhere, order, paper, notes), (tolls_costing, order, notes, cost(order, tolls * 2))]
+                for pair in [(x, y) for x, y, _ in tolls if order.are_open(x, y)][:1]:
+                    calls += [(call, order, tolls, pair) for call in (
+                        rise, drop, greatest_share, least_share, critical_toll, share_mix, met_just)]
+                    calls += [(three_worlds, order, tolls, *pair)]
+                if tolls.total_count() <= 12:
+                    calls += [(whole_many, order, tolls, 2)]
+            calls += [(listing, Desk(order)), (renamings, order)]
+        self.assertGreater(len(calls), 5000)
+        self.quick(calls)
+
+    def test_bounds_of_best_mixes(self):
+        for order in (antichain(12), five_thousand_lower_sets(), many_lines(), antichain(5), standard(6)):
+            line = lines_of(order, first=1)[0]
+            for tolls in few_counts(order, 2, 8, BIG) + few_counts(order, 2, 8, 2):
+                pair = [(x, y) for x, y, _ in tolls if order.are_open(x, y)][0]
+                self.quick([(call, order, tolls, pair) for call in (
+                    rise, drop, greatest_share, least_share, critical_toll, share_mix, met_just)])
+                self.quick([(mean_ends, order, tolls, 3), (in_best, order, tolls, line)])
+            for tolls in few_counts(order, 1, 30, BIG) + few_counts(order, 1, 30, 2):
+                some = [(x, y) for x, y, _ in tolls][:6]
+                notes = Notes(tolls, tolls + Counts.at(some))
+                self.quick([(best_everywhere, order, best_paper(order, tolls), notes), (cost_stretch, order, notes)])
+                self.quick([(tolls_costing, order, notes, cost(order, notes.lows)), (line_regret, order, line, notes)])
+            for tolls in few_counts(order, 3, 8, 1) + few_counts(order, 3, 5, 2):
+                self.quick([(least_times, order, tolls)] if order.size < 9 else [(whole_many, order, tolls, 2)])
+        ones = Counts.ones(thousand_lines())
+        self.quick([(richest_everywhere, thousand_lines(), Notes(Counts(), ones))])
+        self.quick([(greedy_bound, antichain(4)), (greedy_bound, standard(8)), (tree_line, antichain(16))])
+        order = antichain(4) >> antichain(12)
+        self.quick([(level_cost, order, Counts.at(open_pairs(order)[-30:], number=BIG))])
+
+    def test_bounds_of_symmetries_and_orders_between(self):
+        for order in (antichain(6), crown(8, reach=3), many_lines(), chain(16), standard(6)):
+            mix = Mix(7, [(line, at + 1) for at, line in enumerate(lines_of(order, first=30))])
+            self.quick([(renamings, order), (keeping, order, Counts.ones(order)), (averaged, order, Counts(), mix)])
+            self.quick([(averaged_paper, order, Counts(), Paper(1, Counts.ones(order)))])
+        self.quick([(exchanged_cost, standard(6)), (exchanged_cost, crown(6, reach=1))])
+        high = Order(16, [(x, y) for x in (0, 1, 2) for y in (8, 9, 10, 11)])
+        self.quick([(orders_between, antichain(16), high)])
+        self.quick([(cost_ends, chain(4) + chain(12), chain(16), Counts.at(sure_pairs(chain(16))[:30], number=BIG))])
+
+    def test_deeds_at_sixteen_places(self):
+        order = many_lines()
+        desk = Desk(order, tolls=few_counts(order, 1, 29, BIG)[0], weights=Counts.ones(order))
+        self.quick([(desk.trial, ("turn",), ("drop_place", 0), ("back",), ("set_toll", 0, 15, 3), ("tie", 0, 2)),
+                    (desk.mix_now,), (desk.worth_now,), (desk.bounds_now,), (desk.is_even_now,), (listing, desk)])
+        quiet = Desk(antichain(2))
+        self.quick([(quiet.set_toll, 0, 1, number) for number in range(200)])
+        self.quick([(quiet.back,)] * 200)
 
     def test_mixes_of_many_lines(self):
         order = Order(16)
