@@ -21,7 +21,6 @@ def cost_ends(low_order, high_order, tolls):
 def worth_ends(low_order, high_order, weights):
     """Return the worth in the high order and that in the low one."""
     check_held(low_order, high_order)
-    check_fit(high_order, weights)
     return worth(high_order, weights), worth(low_order, weights)
 
 

@@ -290,6 +290,9 @@ class Trial:
 
     def finish(self):
         """Put back what is remembered, if anything is, and forget it."""
+        self._put_back()
+
+    def _put_back(self):
         if self._kept is None:
             return
         self.desk.states = self._kept
@@ -300,4 +303,4 @@ class Trial:
         return self
 
     def __exit__(self, kind, value, trace):
-        self.finish()
+        self._put_back()

@@ -31,11 +31,11 @@ def least_times(order, tolls):
 
 
 def greedy_bound(order):
-    """Return (1 + 1/2 + .. + 1/m) times the full cost, m being the most tight pairs that one line turns."""
+    """Return (1 + 1/2 + .. + 1/m) times the full cost, m being the most tight pairs that one line turns; 0 for a chain.
+    """
     tight = listed_lot(order, tight_pairs(order))
-    if order.is_chain():
-        return 0, 1
     top, bottom = full_cost(order)
+    # A chain has no tight pairs, and so the sum 0.
     total = (0, 1)
     for part in range(1, most_at_once(order, tight) + 1):
         total = add_up(total, (1, part))

@@ -82,9 +82,10 @@ def least_mix(ladder, tolls):
 
 
 def priced_mix(ladder, tolls, price, prices):
-    """Return what least_mix does if prices tells what some lots cost each, at most the price that others cost.
+    """Return what least_mix does for lots of unlike prices: prices tells some of them, and all other lots cost price.
 
-    Lots of one want alone may be told at this price that no row serves, if prices tells less of some that has the want.
+    No lot costs more than that. So if prices tells less for a lot of one want, its price at the beginning is not met in
+    the end.
     """
     table = Tableau(tolls, price)
     known = []

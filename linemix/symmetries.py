@@ -43,7 +43,7 @@ def _find_rows(order, images, free, found):
         found.append(tuple([mask.bit_length() - 1 for mask in images]))
         return
     # The place with the fewest images comes next: so a choice that leads nowhere is soon seen.
-    _, place = min([(len(places_in(images[place])), place) for place in free])
+    _, place = min([(len(places_in(images[other])), other) for other in free])
     for image in places_in(images[place]):
         left = _images_left(order, images, place, image)
         if left is not None and len(found) <= MOST_RENAMINGS:

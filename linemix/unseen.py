@@ -1,6 +1,6 @@
 """Counts of which only a low and a high end are known, and what holds whatever they are in between."""
 
-from linemix.costs import best_paper, check_lower_sets, check_tolled, cost
+from linemix.costs import best_paper, check_tolled, cost
 from linemix.counts import Counts, check_fit
 from linemix.errors import BadFraction, BadNotes, BadPair, TooMany
 from linemix.lines import line_of, lines_of, ranks_of
@@ -82,7 +82,7 @@ def tolls_costing(order, notes, fraction):
         paper = best_paper(order, counts)
         if is_at_most(paper.value_at(counts), (top * part[1], bottom)):
             return counts, part[1]
-        # By this paper all on the way from here costs too much down to where it has the value asked, or further down.
+        # By this paper all tolls from here down to where its value is the one asked cost too much; so do perhaps more.
         low = paper.counts.product_sum(notes.lows)
         high = paper.counts.product_sum(notes.highs)
         part = lowest(top * paper.bottom - low * bottom, (high - low) * bottom)
@@ -106,7 +106,6 @@ def best_everywhere(order, paper, notes):
     if len(notes.unseen_pairs()) > MOST_UNSEEN:
         raise TooMany(MOST_UNSEEN)
     check_tolled(notes.highs)
-    check_lower_sets(order)
     if not paper.holds_in_order(order):
         return False
     both, highs = _doubtful_pairs(paper, notes)

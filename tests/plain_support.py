@@ -1,9 +1,9 @@
 """Slow but plain ways to least totals, corners and shortest rounds, over fractions of Python's own."""
 
 from fractions import Fraction
-from itertools import combinations
+from itertools import combinations, permutations
 
-from tests.support import plain_lines, plain_pairs
+from tests.support import orders_of, plain_lines, plain_pairs
 
 
 def told(number):
@@ -170,3 +170,13 @@ def plain_mates(order):
     turned = {line: open_turned(order, line) for line in plain_lines(order)}
     found = {frozenset(pairs): line for line, pairs in turned.items()}
     return {line: found.get(frozenset((y, x) for x, y in pairs)) for line, pairs in turned.items()}
+
+
+def unlike_orders(size):
+    """One order of that size of each shape: no two of them are equal after renumbering."""
+    found = {}
+    for order in orders_of(size):
+        steps = order.steps_told()
+        shape = min(tuple(sorted((row[x], row[y]) for x, y in steps)) for row in permutations(range(size)))
+        found.setdefault(shape, order)
+    return list(found.values())

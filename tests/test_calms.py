@@ -3,7 +3,7 @@
 import random
 import unittest
 from fractions import Fraction
-from itertools import product
+from itertools import combinations, product
 from math import gcd
 
 from linemix.calms import breaking_tolls, corners, is_calm, whole_corners
@@ -14,13 +14,13 @@ from linemix.leading import tight_pairs
 from linemix.lots import least_meetings
 from linemix.numbers import is_at_most
 from linemix.orders import Order
-from linemix.pairs import all_pairs, sure_pairs
+from linemix.pairs import all_pairs, open_pairs, sure_pairs
 from linemix.rings import least_rings, ring_around
 from linemix.shapes import antichain, bent, chain, crown, standard
 from linemix.shares import ring_cost
-from tests.plain_support import just_met, plain_corners, plain_most, rank_of
+from tests.plain_support import just_met, plain_corners, plain_most, rank_of, unlike_orders
 from tests.support import (
-    NO_LISTS, NO_PAIRS, ORDER, CostCase, few_counts, many_lines, small_orders, some_lots, some_orders,
+    NO_LISTS, NO_PAIRS, ORDER, CostCase, few_counts, lots_within, many_lines, small_orders, some_lots, some_orders,
 )
 
 CALLS = (corners, is_calm, breaking_tolls, whole_corners)
@@ -70,6 +70,24 @@ class CornersTest(CostCase):
             answer, rings = self.cornered(order, lot)
             told = {tuple(Fraction(number, bottom) for number in row) for bottom, row in answer}
             self.assertEqual(told, plain_corners(len(lot), rings))
+
+    def test_all_ways_to_be_against_one_another(self):
+        # Five pairs, any of which can be against any other ones: each graph of five points is met.
+        couples = list(combinations(range(5), 2))
+        lot = tuple((at, 5 + at) for at in range(5))
+        bottoms = set()
+        for mask in list(range(0, 1 << 10, 3)) + [1 << 10]:
+            edges = [couple for at, couple in enumerate(couples) if mask >> at & 1] if mask < 1 << 10 else \
+                [(0, 4), (1, 2), (1, 3), (2, 3), (2, 4)]
+            order = Order(10, [(x, 5 + y) for x, y in edges] + [(y, 5 + x) for x, y in edges])
+            answer, rings = self.cornered(order, lot)
+            self.assertEqual(sorted(map(sorted, rings)), sorted(map(list, edges)))
+            bottoms.update(bottom for bottom, _ in answer)
+            if mask % 111 == 0 or mask == 1 << 10:
+                told = {tuple(Fraction(number, bottom) for number in row) for bottom, row in answer}
+                self.assertEqual(told, plain_corners(5, rings))
+        self.assertEqual(bottoms, {1, 2})
+        self.assertIn((2, (0, 1, 1, 1, 2)), answer)
 
     def test_each_row_is_at_least_a_mean_of_corners(self):
         dice = random.Random("rows above corners")
@@ -155,6 +173,15 @@ class CalmTest(CostCase):
                     made = not any(map(any, whole)) or plain_most(
                         [1] * len(whole), [[told[at] for told in whole] for at in range(len(lot))], rest) >= 1
                     self.assertEqual(is_at_most(cost(order, tolls), (bottom, 1)), made)
+
+    def test_all_lots_of_up_to_four_places(self):
+        # [94]: renumbering changes nothing of this, so one order of each shape is enough.
+        orders = [order for size in (1, 2, 3, 4) for order in unlike_orders(size)]
+        self.assertEqual(len(orders), 1 + 2 + 5 + 16)
+        for order in orders:
+            pairs = open_pairs(order)
+            for lot in lots_within(pairs, min(5, len(pairs))):
+                self.assertTrue(is_calm(order, lot))
 
     def test_up_to_five_places(self):
         # [94]

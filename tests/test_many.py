@@ -10,6 +10,7 @@ from linemix.leading import tight_pairs
 from linemix.lots import most_at_once
 from linemix.many import greedy_bound, least_times, whole_many
 from linemix.numbers import is_at_most
+from linemix.orders import Order
 from linemix.pairs import all_pairs, sure_pairs
 from linemix.products import end_counts, with_ends
 from linemix.shapes import antichain, bent, chain, crown, standard
@@ -106,16 +107,17 @@ class LeastTimesTest(CostCase):
         self.assertLessEqual({1, 2}, seen)
 
     def test_more_times_than_the_bottom_of_the_cost(self):
-        # Even where the cost is a whole number, it may take several times.
-        found = []
-        for order in [standard(3), bent(), crown(4, reach=1), antichain(4)] + some_orders(40, 6, 6):
-            for tolls in few_counts(order, 3, 6, 1):
-                try:
-                    times = least_times(order, tolls)
-                except TooMany:
-                    continue
-                found.append(times - cost(order, tolls)[1])
-                self.assertGreaterEqual(found[-1], 0)
+        # Two rings of three pairs, each pair of the one against each of the other: 3/2 and 3/2 make a whole number,
+        # but whole lines pay each ring alone.
+        steps = [(x, y) for x in range(6) for y in range(6, 12) if x // 3 != (y - 6) // 3]
+        steps += [(x, 6 + x // 3 * 3 + (x + 1) % 3) for x in range(6)]
+        order = Order(12, steps)
+        ones = Counts([(x, 6 + x, 1) for x in range(6)])
+        self.assertEqual(cost(order, ones), (3, 1))
+        self.assertEqual([whole_many(order, ones, many) for many in (1, 2, 3, 4)], [4, 6, 10, 12])
+        self.gives(2, least_times, order, ones)
+        self.gives(1, least_times, order, ones * 4)
+        self.fails(TooMany(24), least_times, order, ones * 3)
 
     def test_products(self):
         # [129]

@@ -71,6 +71,8 @@ class RenamingsTest(CostCase):
         self.assertEqual(len(renamings(antichain(5) >> antichain(3))), 720)
         self.assertEqual(len(renamings((antichain(4) >> antichain(4)) >> chain(2))), 576)
         self.fails(TooMany(1000), renamings, antichain(5) >> antichain(4))
+        self.assertEqual(len(renamings(stacked([5, 2, 2, 2]))), 960)
+        self.fails(TooMany(1000), renamings, stacked([4, 4, 2]))
         for order in (crown(8, reach=1), many_lines(), five_thousand_lower_sets().on(tuple(range(12)))):
             for row in renamings(order):
                 self.assertTrue(all(order.is_below(row[x], row[y]) for x, y in order.steps_told()))

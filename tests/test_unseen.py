@@ -81,6 +81,13 @@ class NotesTest(CostCase):
         self.assertEqual(Notes(highs, highs).unseen_pairs(), ())
         self.assertTrue(Notes(highs, highs).is_seen(7, 7))
 
+    def test_equal_calls_have_equal_answers(self):
+        lows, highs = Counts([(0, 1, 1)]), Counts([(0, 1, 3), (1, 0, 2)])
+        self.assertTrue(Notes(lows, highs) == Notes(lows, highs))
+        for other in (Notes(lows, lows), Notes(highs, highs), Notes(Counts(), highs), (lows, highs), None):
+            self.assertFalse(Notes(lows, highs) == other)
+        self.assertEqual(self.told(Notes(lows, highs).with_seen, 0, 1, 2), Notes(lows * 2, highs.with_count(0, 1, 2)))
+
     def test_low_above_high(self):
         for lows, highs in ((Counts([(0, 1, 2)]), Counts([(0, 1, 1)])), (Counts([(5, 5, 1)]), Counts()),
                             (Counts([(0, 1, BIG + 1)]), Counts([(0, 1, BIG), (1, 0, 1)]))):
@@ -176,6 +183,10 @@ class StretchTest(CostCase):
         self.fails(Unfit(0, 2), cost_stretch, ORDER, Notes(Counts(), unfit.highs))
         self.fails(Unfit(1, 2), tolls_costing, ORDER, unfit, None)
         self.fails(Unfit(0, 2), tolls_costing, ORDER, Notes(Counts(), unfit.highs), None)
+        # Both come ahead of the bounds.
+        seven = Counts.at(all_pairs(antichain(7))[:31])
+        self.fails(Unfit(6, 6), cost_stretch, antichain(7), Notes(seven, seven + Counts([(6, 6, 1)])))
+        self.fails(Unfit(9, 9), tolls_costing, antichain(13), Notes(Counts(), Counts([(9, 9, 1)])), None)
         notes = Notes(fit, fit * 3)
         for wrong in (None, 1, "11", [2, 1], (2,), (2, 1, 1), (2, 0), (2, -1), (True, 1), (2, True), (2.0, 1), ("2", 1),
                       (-2, -1)):
