@@ -278,25 +278,25 @@ class Trial:
 
     def __init__(self, desk):
         self.desk = desk
-        self._kept = None
+        self._remembered = None
 
     def begin(self):
         """Remember what the desk holds."""
-        self._kept = self.desk.states
+        self._remembered = self.desk.states
 
     def keep(self):
         """Forget what is remembered."""
-        self._kept = None
+        self._remembered = None
 
     def finish(self):
         """Put back what is remembered, if anything is, and forget it."""
         self._put_back()
 
     def _put_back(self):
-        if self._kept is None:
+        if self._remembered is None:
             return
-        self.desk.states = self._kept
-        self._kept = None
+        self.desk.states = self._remembered
+        self._remembered = None
 
     def __enter__(self):
         self.begin()

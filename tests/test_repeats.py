@@ -11,6 +11,7 @@ from linemix import (
 from linemix.orders import Order
 from linemix.shapes import antichain, bent, chain, crown, standard
 from tests.support import ORDER, Case, as_lists, five_thousand_lower_sets, many_lines
+from tests.test_interface import FUNCTIONS
 
 ROW = tuple(range(15, -1, -1))
 LOT = ((0, 1), (1, 0), (2, 0), (0, 3), (3, 2))
@@ -31,11 +32,24 @@ DESK = desks.Desk(ORDER, tolls=ONES, weights=ONES)
 AT_POINTS = counts.Counts(((0, 2, 1), (1, 1, 2), (2, 0, 3), (1, 3, 1)))
 
 CALLS = (
+    (numbers.is_int, (4,)),
+    (numbers.check_number, (4, "size", 1, None)),
     (numbers.lowest, (4, -6)),
+    (numbers.add_up, ((1, 2), (1, 3))),
+    (numbers.greater_of, ((1, 2), (1, 3))),
+    (numbers.is_at_most, ((1, 2), (1, 3))),
+    (numbers.scaled, ((1, 2), 6)),
+    (places.all_places, (4,)),
+    (places.place_of, (3, 4, "x")),
     (places.places_of, ((3, 0, 2), 4)),
     (orders.Order, (4, ((0, 2), (1, 2), (1, 3)))),
     (ORDER.on, ((3, 1, 0),)),
     (ORDER.next_steps, ()),
+    (shapes.chain, (5,)),
+    (shapes.antichain, (5,)),
+    (shapes.standard, (5,)),
+    (shapes.crown, (5,)),
+    (shapes.bent, ()),
     (shapes.stacked, ((1, 3, 2),)),
     (lines.lines_of, (bent(),)),
     (lines.lower_sets, (five_thousand_lower_sets(),)),
@@ -96,6 +110,7 @@ CALLS = (
     (counts.Counts.at, (LOT,)),
     (counts.Counts.ones, (ORDER,)),
     (WEIGHTS.with_count, (0, 1, 7)),
+    (counts.check_fit, (many_lines(), WEIGHTS)),
     (counts.kept_on, (chain(16), WEIGHTS)),
     (mixes.Mix, (6, (((1, 0, 2), 3), ((0, 1, 2), 2)))),
     (MIX.share, (1, 0)),
@@ -230,6 +245,8 @@ CALLS = (
     (odds.odd_round, (bent(),)),
     (odds.odd_bound, (bent(),)),
     (crowns.crown_pairs, (5,)),
+    (crowns.crown_most, (20,)),
+    (crowns.crown_cost, (5,)),
     (crowns.crown_line, (5,)),
     (crowns.crown_mix, (5,)),
     (crowns.crown_level_counts, (5, (3,))),
@@ -246,6 +263,7 @@ CALLS = (
     (separates.cut_cost, (many_lines(), TOLLS)),
     (separates.cut_paper, (many_lines(), TOLLS)),
     (separates.cut_worth, (many_lines(), TOLLS)),
+    (separates.cut_share, (5,)),
     (levels.beside_step, (ORDER,)),
     (levels.levels_of, (shapes.stacked((1, 3, 2)),)),
     (levels.level_cost, (antichain(4), ONES)),
@@ -309,10 +327,19 @@ CALLS = (
 )
 
 # A fraction is told by a tuple only.
-TUPLES = (valuing.is_value, valuing.crown_for, unseen.tolls_costing)
+TUPLES = (numbers.add_up, numbers.greater_of, numbers.is_at_most, numbers.scaled, valuing.is_value, valuing.crown_for,
+          unseen.tolls_costing)
 
 
 class RepeatsTest(Case):
+    def test_each_function_of_the_interface_is_called(self):
+        called = {(call.__module__, getattr(call, "__name__", None)) for call, _ in CALLS}
+        for name, functions in FUNCTIONS.items():
+            for told in functions:
+                # A generator is another one each time; tests/test_lines.py looks at it.
+                if told != "each_line(order)":
+                    self.assertIn((f"linemix.{name}", told.partition("(")[0]), called)
+
     def test_lists_and_tuples(self):
         for call, args in CALLS:
             answer = self.told(call, *args)
